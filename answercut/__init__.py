@@ -1,0 +1,1 @@
+"""Answercut: what an answer hangs on."""
