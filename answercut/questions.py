@@ -75,10 +75,11 @@ def need_prices(question, prices):
 
 def names_of(question):
     """Return the ascending tuple of the names in a question's atoms."""
-    return tuple(sorted({name for _, parts in question[1] for name in _part_names(parts)}))
+    return tuple(sorted({name for _, parts in question[1] for name in part_names(parts)}))
 
 
-def _part_names(parts):
+def part_names(parts):
+    """Return the list of the names among an atom's parts, each as often as it stands there."""
     return [part for part in parts if isinstance(part, str)]
 
 
@@ -95,8 +96,8 @@ def pieces(question):
 
 
 def _touches(atoms, place, group):
-    names = _part_names(atoms[place][1])
-    return any([name in names for other in group for name in _part_names(atoms[other][1])])
+    names = part_names(atoms[place][1])
+    return any([name in names for other in group for name in part_names(atoms[other][1])])
 
 
 def part_of(question, piece):
@@ -130,7 +131,7 @@ def _all_ways(book, atoms):
     names, found = [], [()]
     for table, parts in atoms:
         common = [name for name in names if name in parts]
-        fresh = [name for name in sorted(set(_part_names(parts))) if name not in names]
+        fresh = [name for name in sorted(set(part_names(parts))) if name not in names]
         ends = _ends(parts, book[table][1], common, fresh)
         found = _longer(found, [names.index(name) for name in common], ends)
         names = names + fresh
@@ -142,14 +143,14 @@ def _ends(parts, rows, common, fresh):
     """Return a dict from integers for the common names to all that the fresh ones may be with them."""
     ends = {}
     for row in rows:
-        meant = _meant(parts, row)
+        meant = meaning_of(parts, row)
         if meant is not None:
             begun = tuple([meant[name] for name in common])
             ends.setdefault(begun, []).append(tuple([meant[name] for name in fresh]))
     return ends
 
 
-def _meant(parts, row):
+def meaning_of(parts, row):
     """Return the dict from the names among an atom's parts to their integers in a row, None if it can't fit."""
     meant = {}
     for part, worth in zip(parts, row):
