@@ -38,8 +38,13 @@ def need_pinned(book, question, prices, pinned):
 
 def piece_lines(question, prices, pinned):
     """Return the list of the told lines of the pieces, or raise NoLine for the first one without a line."""
+    return [need_line(question, line_tables(question, prices, pinned, piece)) for piece in pieces(question)]
+
+
+def line_tables(question, prices, pinned, piece):
+    """Return the tuple of the tables of a piece that are to stand in its line."""
     tables = ruling(question, prices) if pinned is None else loose_tables(question, prices)
-    return [need_line(question, tuple([table for table in tables if table in piece])) for piece in pieces(question)]
+    return tuple([table for table in tables if table in piece])
 
 
 def cut_of_ways(part, prices, pinned, line, found):

@@ -378,3 +378,48 @@ def judge_triad(question, tables, thing):
         if not is_chain(question, chain, triad[start], triad[end], triad[past]):
             return False
     return True
+
+
+def answers(book, question):
+    names = names_of(question)
+    places = [names.index(name) for name in question[0]]
+    return sorted({tuple(way[place] for place in places) for way in ways(book, question)})
+
+
+def put_answer(question, answer):
+    meant = dict(zip(question[0], answer))
+    return (), tuple((table, tuple(meant.get(part, part) for part in parts)) for table, parts in question[1])
+
+
+def least_price(book, question, prices):
+    """The least price of a cut by all sets of loose rows of ways, with a line or without; None if there is none."""
+    best, found = least_cuts(book, question, prices, None, loose_tables(question, prices))
+    return best if found else None
+
+
+def with_offers(book, offers):
+    return {table: (width, tuple(sorted(rows + tuple(offers.get(table, ()))))) for table, (width, rows) in book.items()}
+
+
+def wish(book, question, offers):
+    """Point 17, by all sets of offered rows."""
+    pairs = sorted((table, row) for table, rows in offers.items() for row in rows)
+    found = []
+    for chosen in subsets(pairs):
+        some = {table: [row for other, row in chosen if other == table] for table in book}
+        if ways(with_offers(book, some), question):
+            found.append((sum(offers[table][row] for table, row in chosen), len(chosen), chosen))
+    if not found:
+        return None
+    price, _, rows = min(found)
+    return price, rows
+
+
+def some_offers(source, book, most=3, worths=3):
+    """Offers for some tables of a book, not in its order."""
+    offers = {}
+    for table in source.sample(sorted(book), source.randint(0, len(book))):
+        width, rows = book[table]
+        made = [tuple(source.randrange(worths) for _ in range(width)) for _ in range(source.randint(0, most))]
+        offers[table] = {row: source.randint(1, 3) for row in made if row not in rows}
+    return offers

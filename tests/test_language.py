@@ -68,6 +68,14 @@ def bound_names():
     return found
 
 
+def called(node):
+    return node.func.id if isinstance(node.func, ast.Name) else None
+
+
+def is_set(node):
+    return isinstance(node, (ast.Set, ast.SetComp)) or isinstance(node, ast.Call) and called(node) in {"set", "frozenset"}
+
+
 class LanguageTest(unittest.TestCase):
     def none(self, found):
         self.assertEqual([f"{path.name}:{getattr(node, 'lineno', node)} {why}" for path, node, why in found], [])
@@ -159,6 +167,73 @@ class LanguageTest(unittest.TestCase):
             names = {node.arg if isinstance(node, ast.arg) else node.id for node in inner
                      if isinstance(node, ast.arg) or isinstance(node.ctx, ast.Store)}
             self.assertEqual(kept & names, set(), f"{path.name} L15")
+
+    def test_sets_stand_only_where_they_may(self):
+        wrong = []
+        for path, tree in trees():
+            above = {child: node for node in ast.walk(tree) for child in ast.iter_child_nodes(node)}
+            for node in ast.walk(tree):
+                if not is_set(node):
+                    continue
+                around = above[node]
+                sorted_or_counted = isinstance(around, ast.Call) and called(around) in {"sorted", "len"}
+                compared = isinstance(around, ast.Compare) and all(
+                    is_set(side) or isinstance(op, (ast.In, ast.NotIn))
+                    for side, op in zip([around.left, *around.comparators][1:], around.ops)
+                )
+                stored = isinstance(around, ast.Assign) and isinstance(around.targets[0], ast.Name)
+                if not (sorted_or_counted and not around.keywords or compared or stored):
+                    wrong.append((path, node, "L24"))
+        self.none(wrong)
+
+    def test_no_generator_expressions(self):
+        # A class with __eq__ or __len__, as later stages have them, bars most of them (L7).
+        self.none([(path, node, "L7") for path, node in nodes((ast.GeneratorExp, ast.Yield, ast.YieldFrom))])
+
+    def test_is_stands_beside_none_true_and_false(self):
+        wrong = []
+        for path, node in nodes(ast.Compare):
+            for op, side in zip(node.ops, node.comparators):
+                constant = isinstance(side, ast.Constant) and side.value in (None, True, False)
+                if isinstance(op, (ast.Is, ast.IsNot)) and not constant:
+                    wrong.append((path, node, "L20"))
+        self.none(wrong)
+
+    def test_functions_of_a_table_have_a_name_first(self):
+        found = [(path, node) for path, node in nodes(ast.Call) if isinstance(node.func, (ast.Subscript, ast.Call))]
+        self.none([(path, node, "L3") for path, node in found])
+
+    def test_no_sort(self):
+        self.none([(path, node, "L25") for path, node in nodes(ast.Attribute) if node.attr == "sort"])
+
+    def test_errors_are_created_where_they_are_raised(self):
+        wrong = []
+        for path, node in nodes(ast.Raise):
+            if node.exc is not None and not (isinstance(node.exc, ast.Call) and isinstance(node.exc.func, ast.Name)):
+                wrong.append((path, node, "L19"))
+        self.none(wrong)
+
+    def test_no_percent_sign_in_strings(self):
+        found = [(path, node) for path, node in nodes(ast.Constant) if isinstance(node.value, str)]
+        self.none([(path, node, "L27") for path, node in found if chr(37) in node.value])
+
+    def test_loops_do_not_change_what_they_go_over(self):
+        changing = {"append", "pop", "remove", "insert", "extend", "clear", "update", "setdefault", "reverse"}
+        wrong = []
+        for path, loop in nodes(ast.For):
+            over = ast.unparse(loop.iter)
+            for node in ast.walk(ast.Module(loop.body, [])):
+                call = isinstance(node, ast.Call) and isinstance(node.func, ast.Attribute) and node.func.attr in changing
+                if call and ast.unparse(node.func.value) == over:
+                    wrong.append((path, node, "L23"))
+        self.none(wrong)
+
+    def test_comments_and_docstrings(self):
+        for path, tree in trees():
+            self.assertIsNotNone(ast.get_docstring(tree), path.name)
+            public = [node for node in ast.walk(tree) if isinstance(node, (ast.FunctionDef, ast.ClassDef))]
+            bare = [node for node in public if not node.name.startswith("_") and ast.get_docstring(node) is None]
+            self.none([(path, node, "docstring") for node in bare])
 
     def test_strings(self):
         wrong = [(path, node, "L27") for path, node in nodes(ast.Constant)
