@@ -3,6 +3,8 @@
 from answercut.books import is_integer, is_row, rises
 from answercut.questions import is_way, names_of, rows_of
 
+MOST_AMOUNT = 10 ** 40 - 1
+
 
 def is_loose_row(book, prices, thing):
     """Return whether any object is a pair (table, row): a loose row in the book."""
@@ -74,7 +76,7 @@ def joined_amounts(question, parts, carried):
 def _side_by_side(ones, others):
     joined = []
     places, left = [0, 0], [ones[0][1], others[0][1]]
-    while places[0] < len(ones) and places[1] < len(others):
+    while places[0] < len(ones):
         amount = min(left)
         joined.append(({**ones[places[0]][0], **others[places[1]][0]}, amount))
         for side, laid in enumerate((ones, others)):

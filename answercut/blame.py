@@ -1,6 +1,6 @@
 """The blame of loose rows, and its judge."""
 
-from answercut.amounts import are_amounts, are_loose_rows, fit, is_loose_row, open_rows, price_of, total
+from answercut.amounts import MOST_AMOUNT, are_amounts, are_loose_rows, fit, is_loose_row, open_rows, price_of, total
 from answercut.books import is_integer, without_row
 from answercut.errors import NoRow, TooMany
 from answercut.lines import loose_tables, need_line
@@ -8,7 +8,6 @@ from answercut.nets import as_keys, cut_of_ways
 from answercut.questions import holds, is_way, need_closed, need_prices, part_of, pieces, rows_of, ways
 
 MOST_SETS = 60
-MOST_AMOUNT = 10 ** 40 - 1
 
 
 def blame(book, question, prices, pair):
@@ -19,9 +18,10 @@ def blame(book, question, prices, pair):
     sets = _sets(book, question, prices, pair)
     if not sets:
         return "none", ()
+    # The row itself is in each set, too, but in no way that is left.
     left = [way for way in ways(book, part) if pair not in rows_of(part, way)]
     # Each way that is left has a row of the pair's table that is another one, thus in no set: so there are cuts.
-    cuts = [cut_of_ways(part, prices, _others(rows, pair), line, left) for rows in sets]
+    cuts = [cut_of_ways(part, prices, rows, line, left) for rows in sets]
     price = min([cut[1] for cut in cuts])
     least = [at for at, cut in enumerate(cuts) if cut[1] == price][0]
     papers = tuple([(rows, cut[3]) for rows, cut in zip(sets, cuts)])
@@ -39,10 +39,6 @@ def _need_pair(book, question, prices, pair):
 def _part_with(question, table):
     """Return the piece that has a table, as a question."""
     return part_of(question, [piece for piece in pieces(question) if table in piece][0])
-
-
-def _others(rows, pair):
-    return tuple([other for other in rows if other != pair])
 
 
 def _sets(book, question, prices, pair):
@@ -101,12 +97,11 @@ def _stays(fewer, part, prices, rows, way):
 
 def _is_decisive(book, part, prices, pair, rows, way):
     """Return whether without some loose rows any object is a way through a row, and all ways go through it."""
-    if pair in rows or not is_way(book, part, way):
+    if not is_way(book, part, way):
         return False
     lost = as_keys(rows)
     left = [made for made in _made(book, part) if not any([other in lost for other in made])]
-    made = rows_of(part, way)
-    return pair in made and made in left and all([pair in other for other in left])
+    return rows_of(part, way) in left and all([pair in other for other in left])
 
 
 def _made(book, part):

@@ -49,7 +49,7 @@ class Net:
         tried = [0 for _ in self.leaving]
         path = []
         node = START
-        while node != START or tried[START] < len(self.leaving[START]):
+        while tried[START] < len(self.leaving[START]):
             if node == END:
                 kept = self.push(path)
                 node = self.tail(path[kept])

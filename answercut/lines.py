@@ -34,12 +34,12 @@ def _ruled(question, prices):
     for piece in pieces(question):
         inside = [table for table in loose if table in piece]
         for table in inside:
-            ruled[table] = [other for other in inside if other != table and _rules(names, prices, inside, other, table)]
+            ruled[table] = [other for other in inside if _rules(names, prices, inside, other, table)]
     return ruled
 
 
 def _rules(names, prices, tables, one, other):
-    """Return whether one of the tables of a piece, which are in the order of the atoms, rules another one."""
+    """Return whether of the tables of a piece, which are in the order of the atoms, one rules another one."""
     if prices[one] > prices[other] or not all([name in names[other] for name in names[one]]):
         return False
     same = prices[one] == prices[other] and set(names[one]) == set(names[other])

@@ -4,7 +4,6 @@ from answercut.books import DIGITS, LETTERS, MOST_WORTH, is_name
 from answercut.errors import SyntaxProblem
 
 MOST_DIGITS = 40
-MOST_AMOUNT = 10 ** 40 - 1
 
 
 def number_of(word, most):

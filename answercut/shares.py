@@ -2,8 +2,8 @@
 
 All three come from weights: a loose row has a weight if it is there and another one if it is lost. The weight of a set
 of rows is the product of these weights of all loose rows. Weights are lists of integers, read as sums of powers: the
-item at the place k stands before the k-th power. So with the first power for each row that is there, the sum of the
-weights of some sets tells how many of them have k rows.
+item at the place k stands before the k-th power; both weights of a row have as many items. So with the first power for
+each row that is there, the sum of the weights of some sets tells how many of them have k rows.
 """
 
 from math import factorial, gcd
@@ -76,7 +76,7 @@ def _need_few(book, question, loose):
 
 def _counts(book, question, rows, lost):
     """Return the list of the counts, one for each k up to the number of the loose rows, if one of them may be lost."""
-    weights = {pair: ([0, 1], [1]) for pair in rows}
+    weights = {pair: ([0, 1], [1, 0]) for pair in rows}
     if lost is not None:
         weights[lost] = ([0], [1])
     held, _ = _weigh_book(book, question, weights)
@@ -165,21 +165,16 @@ def _touches(atom, group):
 
 
 def _plus(one, other):
-    return [_item(one, k) + _item(other, k) for k in range(max(len(one), len(other)))]
+    return [part + more for part, more in zip(one, other)]
 
 
 def _minus(one, other):
-    return [_item(one, k) - _item(other, k) for k in range(max(len(one), len(other)))]
-
-
-def _item(weight, k):
-    return weight[k] if k < len(weight) else 0
+    return [part - less for part, less in zip(one, other)]
 
 
 def _times(one, other):
     made = [0 for _ in range(len(one) + len(other) - 1)]
     for at, factor in enumerate(one):
-        if factor:
-            for place, worth in enumerate(other):
-                made[at + place] += factor * worth
+        for place, worth in enumerate(other):
+            made[at + place] += factor * worth
     return made

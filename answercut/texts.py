@@ -1,11 +1,12 @@
 """Texts of books, questions, prices and papers."""
 
+from answercut.amounts import MOST_AMOUNT
 from answercut.books import MOST_ROWS, MOST_TABLES, MOST_WIDTH, MOST_WORTH, is_name
 from answercut.errors import SyntaxProblem
 from answercut.lines import shows_triad
 from answercut.nets import line_tables, need_pinned, shows_least
 from answercut.questions import MOST_ATOMS, MOST_NAMES, MOST_PARTS, pieces
-from answercut.readers import MOST_AMOUNT, Page, Reader, number_of, tokens_of
+from answercut.readers import Page, Reader, number_of, tokens_of
 
 MOST_CHAIN = 6
 
@@ -42,8 +43,7 @@ def _read_row(reader, book):
     width, rows = book[table]
     row = ()
     while len(row) < width:
-        worth = number_of(reader.peek(), MOST_WORTH)
-        reader.need(worth is not None and row + (worth,) not in rows)
+        reader.need(row + (number_of(reader.peek(), MOST_WORTH),) not in rows)
         row = row + (reader.take_number(0, MOST_WORTH),)
     reader.end()
     book[table] = (width, tuple(sorted(rows + (row,))))

@@ -97,6 +97,17 @@ class BlameTest(unittest.TestCase):
         self.right(book, question, {"a": 100, "b": 2, "c": 1}, ("a", (1,)), 60)
         self.right(book, question, {"a": 50, "b": 2, "c": 1}, ("a", (1,)), 50)
 
+    def test_sets_with_different_least_prices(self):
+        # The row (1,) of c costs less than the other row of b, but it is pinned if the way over it is to be left.
+        book = {"a": (1, ((1,), (2,))), "b": (2, ((1, 1), (1, 2), (2, 1))), "c": (1, ((1,), (2,)))}
+        question = ((), (("a", ("x",)), ("b", ("x", "y")), ("c", ("y",))))
+        for prices, price in (({"a": 100, "b": 50, "c": 1}, 1), ({"a": 100, "b": 50, "c": 70}, 50)):
+            self.right(book, question, prices, ("a", (1,)), price)
+            turned = {"a": book["a"], "b": (2, ((1, 1), (1, 2), (2, 2))), "c": book["c"]}
+            self.right(turned, question, prices, ("a", (1,)), price)
+        sums = [sum(amount for _, amount in paper[1]) for paper in blame(book, question, {"a": 100, "b": 50, "c": 1}, ("a", (1,)))[4]]
+        self.assertEqual(sums, [50, 1])
+
     def test_ways_with_one_set(self):
         # The ways through a row differ in a firm table's rows alone.
         book = ladder(60)
@@ -163,6 +174,31 @@ class JudgeTest(unittest.TestCase):
             self.assertIs(shows_blame(book, question, prices, ("a", (1,)), ("blame", 2, rows, (1,), papers)), False)
         wide = ((papers[0][0], (((2,), 2),)),)
         self.assertIs(shows_blame(book, question, prices, ("a", (1,)), ("blame", 1, (("a", (2,)),), (1,), wide)), False)
+
+    def test_a_set_that_leaves_no_way_through_the_row(self):
+        # Without the row of b nothing is left, neither the way that is to stay.
+        book = {"a": (1, ((1,), (2,))), "b": (1, ((5,),)), "m": (2, ((1, 5), (2, 5)))}
+        question = ((), (("a", ("x",)), ("b", ("y",)), ("m", ("x", "y"))))
+        prices, pair = {"a": 2, "b": 1, "m": None}, ("a", (1,))
+        papers = (((("a", (1,)), ("b", (5,))), (((2, 5), 2),)),)
+        for told, right in (
+            (("blame", 2, (("a", (2,)),), (1, 5), papers), True), (("blame", 1, (("b", (5,)),), (1, 5), papers), False),
+        ):
+            self.assertIs(shows_blame(book, question, prices, pair, told), right)
+
+    def test_another_piece_does_not_hold(self):
+        book = {"a": (1, ((1,),)), "c": (1, ())}
+        question, prices = ((), (("a", ("x",)), ("c", ("z",)))), {"a": 2, "c": 1}
+        for papers in ((), (((("a", (1,)),), ()),)):
+            for told in (("blame", 0, (), (1,), papers), ("none", papers)):
+                self.assertIs(shows_blame(book, question, prices, ("a", (1,)), told), told == ("none", ()))
+
+    def test_the_row_itself_in_the_set(self):
+        prices = {"a": 2, "b": 1}
+        told = blame(BOOK, QUESTION, prices, ("b", (1, 1)))
+        for rows in ((("b", (1, 1)),), told[2] + (("b", (1, 1)),), tuple(sorted(told[2] + (("b", (1, 1)),)))):
+            price = references.price_of(prices, rows)
+            self.agrees(BOOK, QUESTION, prices, ("b", (1, 1)), told[:1] + (price, rows) + told[3:])
 
     def test_amounts_beyond_the_blame(self):
         # Through one set the blame is 2, through the other one it would be 4: its amounts may add up to anything from 2 on.

@@ -266,6 +266,17 @@ class JudgeTest(unittest.TestCase):
         self.assertIs(shows_least(book, question, prices, pinned, ("cut", 4, rows, amounts)), True)
         self.assertIs(shows_least(book, question, {"a": 2, "b": None}, None, ("cut", 4, rows, amounts)), True)
 
+    def test_a_price_below_that_of_the_rows(self):
+        told = least_cut(BOOK, QUESTION, PRICES, None)
+        for amounts in ((), told[3][:1], told[3][1:], (((1, 5), 1),), tuple((way, amount - 1) for way, amount in told[3][:1])):
+            price = sum(amount for _, amount in amounts)
+            self.agrees(BOOK, QUESTION, PRICES, None, ("cut", price, told[2], amounts))
+            self.assertIs(shows_least(BOOK, QUESTION, PRICES, None, ("cut", price, told[2], amounts)), False)
+        # A dearer cut, with its own price or with that of the least one.
+        rows = (("a", (1,)), ("a", (2,)))
+        for price in (5, 6):
+            self.assertIs(shows_least(BOOK, QUESTION, PRICES, None, ("cut", price, rows, told[3])), False)
+
     def test_a_cut_that_is_not_the_told_one(self):
         book, question = {"a": (1, ((1,),)), "b": (1, ((1,),))}, ((), (("a", ("x",)), ("b", ("x",))))
         for pinned in (None, ()):

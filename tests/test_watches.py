@@ -489,6 +489,9 @@ class ToldTest(unittest.TestCase):
         watch = self.filled()
         prices = {"a": 9, "b": 2}
         watch.keep("q", QUESTION, prices)
+        watch.keep("w", ((), QUESTION[1][::-1]), {"a": 1, "b": None})
+        self.assertEqual(watch.blame_of("w", ("a", (2,)))[:2], ("blame", 1))
+        self.assertEqual(raised(watch.blame_of, "w", ("b", (2, 5)))[0], NoRow)
         for pins in ((), (("a", (1,)), ("b", (2, 5)))):
             for table, row in pins:
                 watch.pin(table, row)
@@ -496,7 +499,7 @@ class ToldTest(unittest.TestCase):
                 self.assertEqual(watch.blame_of("q", pair), blame(watch.book_now(), QUESTION, prices, pair))
             for pair in ANY_OBJECTS + [("c", (1,)), ("a", (3,))]:
                 self.assertEqual(result(watch.blame_of, "q", pair), result(blame, watch.book_now(), QUESTION, prices, pair))
-            self.assertEqual(raised(watch.blame_of, "w", None)[0], NoQuestion)
+            self.assertEqual(raised(watch.blame_of, "v", None)[0], NoQuestion)
 
     def test_what_is_told_may_be_changed(self):
         watch = self.filled()
