@@ -15,7 +15,7 @@ def least_cut(book, question, prices, pinned):
     lines = piece_lines(question, prices, pinned)
     parts = [part_of(question, piece) for piece in pieces(question)]
     found = [ways(book, part) for part in parts]
-    told = [cut_of_ways(part, prices, pinned, line, found[at]) for at, (part, line) in enumerate(zip(parts, lines))]
+    told = [cut_of_ways(part, prices, pinned, line, made) for part, line, made in zip(parts, lines, found)]
     cuts = [each for each in told if each[0] == "cut"]
     if not cuts:
         joined = joined_amounts(question, parts, [[(each[1], 1)] for each in told])

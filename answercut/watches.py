@@ -92,7 +92,7 @@ class Watch:
         """Return (book, question, prices, pinned rows of the question) as they are for the question of a name."""
         self._need_name(name)
         book, pins, kept, _ = self._state
-        question, prices = [(question, prices) for other, question, prices in kept if other == name][0]
+        _, question, prices = [each for each in kept if each[0] == name][0]
         return dict(book), question, dict(prices), pins_of(pins, prices)
 
     def book_now(self):
