@@ -1,7 +1,6 @@
 """Least cuts of closed questions, and the judges of cuts."""
 
-from answercut.amounts import are_amounts, are_loose_rows, fit, is_loose_row, joined_amounts, open_rows, price_of
-from answercut.amounts import total, up_to
+from answercut.amounts import are_amounts, are_loose_rows, fit, joined_amounts, open_rows, price_of, total, up_to
 from answercut.books import is_integer, without_rows
 from answercut.errors import NoRow
 from answercut.flows import nearest_cut
