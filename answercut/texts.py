@@ -1,7 +1,7 @@
 """Texts of books, questions, prices and papers."""
 
 from answercut.amounts import MOST_AMOUNT
-from answercut.books import MOST_ROWS, MOST_TABLES, MOST_WIDTH, MOST_WORTH, is_name
+from answercut.books import MOST_ROWS, MOST_TABLES, MOST_WIDTH, MOST_WORTH
 from answercut.errors import SyntaxProblem
 from answercut.lines import shows_triad
 from answercut.nets import line_tables, need_pinned, shows_least
