@@ -52,13 +52,16 @@ def total(amounts):
     return sum([amount for _, amount in amounts])
 
 
-def fit(question, prices, amounts, pinned):
-    """Return whether the ways of each loose row that is not pinned carry at most its price together."""
+def fit(question, prices, amounts, pinned, changes):
+    """Return whether the ways of each loose row that is not pinned carry at most its price together.
+
+    Changes are a dict from pairs to how much more than their prices they may carry.
+    """
     loads = {}
     for way, amount in amounts:
         for pair in open_rows(question, prices, way, pinned):
             loads[pair] = loads.get(pair, 0) + amount
-    return all([load <= prices[table] for (table, _), load in loads.items()])
+    return all([load <= prices[pair[0]] + changes.get(pair, 0) for pair, load in loads.items()])
 
 
 def joined_amounts(question, parts, carried):

@@ -4,7 +4,7 @@ from answercut.amounts import MOST_AMOUNT, are_amounts, are_loose_rows, fit, is_
 from answercut.books import is_integer, without_row
 from answercut.errors import NoRow, TooMany
 from answercut.lines import loose_tables, need_line
-from answercut.nets import as_keys, cut_of_ways
+from answercut.nets import Course, as_keys, is_standing
 from answercut.questions import holds, is_way, need_closed, need_prices, part_of, pieces, rows_of, ways
 
 MOST_SETS = 60
@@ -21,7 +21,7 @@ def blame(book, question, prices, pair):
     # The row itself is in each set, too, but in no way that is left.
     left = [way for way in ways(book, part) if pair not in rows_of(part, way)]
     # Each way that is left has a row of the pair's table that is another one, thus in no set: so there are cuts.
-    cuts = [cut_of_ways(part, prices, rows, line, left) for rows in sets]
+    cuts = [Course(part, prices, rows, line, left).cut(prices, {}) for rows in sets]
     price = min([cut[1] for cut in cuts])
     least = [at for at, cut in enumerate(cuts) if cut[1] == price][0]
     papers = tuple([(rows, cut[3]) for rows, cut in zip(sets, cuts)])
@@ -65,20 +65,20 @@ def shows_blame(book, question, prices, pair, thing):
     if not isinstance(thing, tuple):
         return False
     if len(thing) == 2 and thing[0] == "none":
-        if not _are_papers(book, prices, sets, thing[1]):
+        if not are_papers(book, prices, sets, thing[1]):
             return False
-        return all([_stays(fewer, part, prices, rows, way) for rows, way in thing[1]])
-    if len(thing) != 5 or thing[0] != "blame" or not sets or not _are_papers(book, prices, sets, thing[4]):
+        return all([is_standing(fewer, part, prices, rows, way) for rows, way in thing[1]])
+    if len(thing) != 5 or thing[0] != "blame" or not sets or not are_papers(book, prices, sets, thing[4]):
         return False
     _, price, rows, way, papers = thing
     if not are_loose_rows(book, prices, rows) or not is_integer(price) or price != price_of(prices, rows):
         return False
     if not _is_decisive(book, part, prices, pair, rows, way):
         return False
-    return all([_costs(fewer, part, prices, kept, price, amounts) for kept, amounts in papers])
+    return all([cost_enough(fewer, part, prices, kept, price, amounts) for kept, amounts in papers])
 
 
-def _are_papers(book, prices, sets, thing):
+def are_papers(book, prices, sets, thing):
     """Return whether any object is a tuple of pairs of a set and another thing, with each set once, ascending."""
     if not isinstance(thing, tuple) or len(thing) != len(sets):
         return False
@@ -88,11 +88,6 @@ def _are_papers(book, prices, sets, thing):
     return all([
         are_loose_rows(book, prices, paper[0]) and paper[0] == rows for paper, rows in zip(thing, sets)
     ])
-
-
-def _stays(fewer, part, prices, rows, way):
-    """Return whether any object is a way behind which nothing but the rows of a set can be lost."""
-    return is_way(fewer, part, way) and not open_rows(part, prices, way, as_keys(rows))
 
 
 def _is_decisive(book, part, prices, pair, rows, way):
@@ -108,10 +103,13 @@ def _made(book, part):
     return [rows_of(part, way) for way in ways(book, part)]
 
 
-def _costs(fewer, part, prices, rows, price, amounts):
-    """Return whether any object is amounts which show that without the rows of a set no cut is cheaper than a price."""
-    if not are_amounts(fewer, part, amounts) or total(amounts) < price:
+def cost_enough(book, question, prices, rows, price, amounts):
+    """Return whether any object is amounts which show that without the rows of a set no cut is cheaper than a price.
+
+    No amount has more than forty digits.
+    """
+    if not are_amounts(book, question, amounts) or total(amounts) < price:
         return False
     if not all([amount <= MOST_AMOUNT for _, amount in amounts]):
         return False
-    return fit(part, prices, amounts, as_keys(rows))
+    return fit(question, prices, amounts, as_keys(rows), {})

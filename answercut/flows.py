@@ -77,6 +77,24 @@ class Net:
         """Return the node that an arc leaves."""
         return self.heads[arc ^ 1]
 
+    def stop_carries(self, at):
+        """Return whether anything flows through the stop of a place; the arcs of the stops are the first ones."""
+        return self.free[2 * at + 1] > 0
+
+    def reaches(self):
+        """Return for each node all nodes that it reaches along arcs that are not full, as the bits of an integer."""
+        found = [1 << node for node in range(len(self.leaving))]
+        arcs = [(self.tail(arc), head) for arc, head in enumerate(self.heads) if self.free[arc] > 0]
+        growing = True
+        while growing:
+            growing = False
+            for tail, head in arcs:
+                bits = found[tail] | found[head]
+                if bits != found[tail]:
+                    found[tail] = bits
+                    growing = True
+        return found
+
     def take_path(self):
         """Take a path away on which something flows: return its nodes and the amount, or None if nothing flows."""
         path = []
@@ -96,20 +114,15 @@ class Net:
 def nearest_cut(paths, bounds):
     """Return the least cut nearest to the beginning of some paths, and a greatest flow.
 
-    A path is a tuple of stops, the same number in each, and no stop stands at two places. Bounds are a dict from the
-    stops of the paths to what each may carry, or to None if it is not to be cut; each path has a stop with a bound.
-    The cut is a list of stops; the flow is a list of pairs of a tuple of stops and an amount. (Its tuples may be
-    mixed from those of several paths, where these meet.)
+    Paths and bounds are as full_net tells. The cut is a list of stops; the flow is a list of pairs of a tuple of stops
+    and an amount. (Its tuples may be mixed from those of several paths, where these meet.)
     """
-    stops = [stop for stop in bounds]
-    # With this bound an arc is never full: all stops together carry less.
-    unbounded = sum([bound for bound in bounds.values() if bound is not None]) + 1
-    net = _net_of(paths, bounds, unbounded)
-    net.fill()
+    stops = list(bounds)
+    net = full_net(paths, bounds)
     levels = net.levels()
     cut = [
         stop for at, stop in enumerate(stops)
-        if levels[_entry(at)] is not None and levels[_entry(at) + 1] is None
+        if levels[entry_of(at)] is not None and levels[entry_of(at) + 1] is None
     ]
     flow = []
     taken = net.take_path()
@@ -121,7 +134,8 @@ def nearest_cut(paths, bounds):
     return cut, flow
 
 
-def _entry(at):
+def entry_of(at):
+    """Return the node where a stop's arc begins; it ends in the next node."""
     return 2 * at + 2
 
 
@@ -129,17 +143,25 @@ def _stop_at(node):
     return (node - 2) // 2
 
 
-def _net_of(paths, bounds, unbounded):
+def full_net(paths, bounds):
+    """Return the net of some paths, in which as much flows as can.
+
+    A path is a tuple of stops, the same number in each, and no stop stands at two places. Bounds are a dict from the
+    stops of the paths to what each may carry, or to None if it is not to be cut; each path has a stop with a bound.
+    """
+    # With this bound an arc is never full: all stops together carry less.
+    unbounded = sum([bound for bound in bounds.values() if bound is not None]) + 1
     places = {stop: at for at, stop in enumerate(bounds)}
     net = Net(2 * len(places) + 2)
     for stop, at in places.items():
         bound = bounds[stop]
-        net.add_arc(_entry(at), _entry(at) + 1, unbounded if bound is None else bound)
+        net.add_arc(entry_of(at), entry_of(at) + 1, unbounded if bound is None else bound)
     joined = {}
     for path in paths:
-        nodes = [START] + [_entry(places[stop]) for stop in path]
+        nodes = [START] + [entry_of(places[stop]) for stop in path]
         for tail, head in zip(nodes, nodes[1:] + [END]):
             joined[(tail if tail == START else tail + 1, head)] = True
     for tail, head in joined:
         net.add_arc(tail, head, unbounded)
+    net.fill()
     return net

@@ -13,36 +13,49 @@ def loose_tables(question, prices):
 
 def ruling(question, prices):
     """Return the tuple of the ruling tables, in the order of the atoms."""
-    ruled = _ruled(question, prices)
-    return tuple([table for table in loose_tables(question, prices) if not ruled[table]])
+    return ruling_by(question, _as_tuples(prices))
+
+
+def ruling_by(question, worths):
+    """Return the tuple of the ruling tables by tuples of integers, None for a firm table.
+
+    A table whose integers are not greater than those of another one, each by itself, may rule it.
+    """
+    ruled = _ruled(question, worths)
+    return tuple([table for table in loose_tables(question, worths) if not ruled[table]])
+
+
+def _as_tuples(prices):
+    return {table: None if price is None else (price,) for table, price in prices.items()}
 
 
 def rulers(question, prices):
     """Return the tuple of pairs: a table that is not ruling, and the first ruling one that rules it."""
-    ruled = _ruled(question, prices)
+    ruled = _ruled(question, _as_tuples(prices))
     loose = loose_tables(question, prices)
     # Ruling goes on from table to table without an end in itself, so a ruled table has a ruling ruler.
     first = {table: [ruler for ruler in ruled[table] if not ruled[ruler]] for table in loose}
     return tuple([(table, first[table][0]) for table in loose if first[table]])
 
 
-def _ruled(question, prices):
+def _ruled(question, worths):
     """Return a dict from each loose table to the list of those that rule it, in the order of the atoms."""
     names = names_by_table(question)
-    loose = loose_tables(question, prices)
+    loose = loose_tables(question, worths)
     ruled = {table: [] for table in loose}
     for piece in pieces(question):
         inside = [table for table in loose if table in piece]
         for table in inside:
-            ruled[table] = [other for other in inside if _rules(names, prices, inside, other, table)]
+            ruled[table] = [other for other in inside if _rules(names, worths, inside, other, table)]
     return ruled
 
 
-def _rules(names, prices, tables, one, other):
+def _rules(names, worths, tables, one, other):
     """Return whether of the tables of a piece, which are in the order of the atoms, one rules another one."""
-    if prices[one] > prices[other] or not all([name in names[other] for name in names[one]]):
+    dearer = any([worth > more for worth, more in zip(worths[one], worths[other])])
+    if dearer or not all([name in names[other] for name in names[one]]):
         return False
-    same = prices[one] == prices[other] and set(names[one]) == set(names[other])
+    same = worths[one] == worths[other] and set(names[one]) == set(names[other])
     return not same or tables.index(one) < tables.index(other)
 
 

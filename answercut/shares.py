@@ -36,19 +36,19 @@ def loose_rows(book, question, loose):
 
 def counts(book, question, loose):
     """Return for k from 0 on the number of the sets of k loose rows with which the question holds."""
-    return tuple(_counts(book, question, _need_few(book, question, loose), None))
+    return tuple(counts_of(book, question, need_few(book, question, loose), None))
 
 
 def shares(book, question, loose):
     """Return the tuple of (table, row, share) of all loose rows, ascending."""
-    rows = _need_few(book, question, loose)
-    every = _counts(book, question, rows, None)
-    return tuple([(table, row, _share(every, _counts(book, question, rows, (table, row)))) for table, row in rows])
+    rows = need_few(book, question, loose)
+    every = counts_of(book, question, rows, None)
+    return tuple([(table, row, _share(every, counts_of(book, question, rows, (table, row)))) for table, row in rows])
 
 
 def chance(book, question, chances):
     """Return the chance that the question holds, each loose row being there by a chance of its own."""
-    rows = _need_few(book, question, tuple(chances))
+    rows = need_few(book, question, tuple(chances))
     weights = {}
     for table, row in rows:
         over, under = chances[table][row]
@@ -63,7 +63,7 @@ def lowest(over, under):
     return over // common, under // common
 
 
-def _need_few(book, question, loose):
+def need_few(book, question, loose):
     """Return the loose rows, or raise NotNested or TooMany."""
     paper = crossing(question)
     if paper is not None:
@@ -74,7 +74,7 @@ def _need_few(book, question, loose):
     return rows
 
 
-def _counts(book, question, rows, lost):
+def counts_of(book, question, rows, lost):
     """Return the list of the counts, one for each k up to the number of the loose rows, if one of them may be lost."""
     weights = {pair: ([0, 1], [1, 0]) for pair in rows}
     if lost is not None:

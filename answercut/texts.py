@@ -54,13 +54,13 @@ def format_book(book):
     lines = []
     for table, (width, rows) in book.items():
         lines.append(f"table {table} {width}")
-        lines.extend([row_line(table, row) for row in rows])
+        lines.extend(row_lines("row", [(table, row) for row in rows]))
     return "\n".join(lines)
 
 
-def row_line(table, row):
-    """Return the line of a row in a text."""
-    return "row " + pair_text(table, row)
+def row_lines(word, pairs):
+    """Return the list of the lines of rows in a text, which begin with a word."""
+    return [f"{word} {pair_text(table, row)}" for table, row in pairs]
 
 
 def pair_text(table, row):
@@ -142,6 +142,11 @@ def _format_atom(table, parts):
 
 def parse_prices(text):
     """Return the prices that a text tells; they need be those of no question."""
+    return read_prices(text, _read_price)
+
+
+def read_prices(text, read_price):
+    """Return a dict from the tables of a text to None for the word firm, or to what a function reads."""
     reader = Reader(1, tokens_of(text), len(text))
     prices = {}
     while reader.more():
@@ -150,14 +155,15 @@ def parse_prices(text):
             reader.take()
         reader.need(reader.peek() not in prices)
         table = reader.take_name()
-        prices[table] = _read_price(reader)
+        if reader.peek() == "firm":
+            reader.take()
+            prices[table] = None
+        else:
+            prices[table] = read_price(reader)
     return prices
 
 
 def _read_price(reader):
-    if reader.peek() == "firm":
-        reader.take()
-        return None
     return reader.take_number(1, MOST_WORTH)
 
 
@@ -187,19 +193,23 @@ def _read_cut(page):
     reader = page.take_line("cut")
     price = reader.take_number(0, MOST_AMOUNT)
     reader.end()
-    rows = read_rows(page)
+    rows = read_rows(page, "row")
     return "cut", price, rows, read_ways(page)
 
 
-def read_rows(page):
-    """Return the tuple of the pairs (table, row) of the next lines that begin with row."""
+def read_rows(page, word):
+    """Return the tuple of the pairs (table, row) of the next lines that begin with a word."""
     rows = []
-    while page.peek() == "row":
-        reader = page.take_line("row")
-        table = reader.take_name()
-        reader.need(reader.more())
-        rows.append((table, reader.take_numbers()))
+    while page.peek() == word:
+        rows.append(read_pair(page.take_line(word)))
     return tuple(rows)
+
+
+def read_pair(reader):
+    """Return the pair (table, row) that the rest of a line is to be."""
+    table = reader.take_name()
+    reader.need(reader.more())
+    return table, reader.take_numbers()
 
 
 def read_ways(page):
@@ -232,28 +242,42 @@ def format_paper(paper):
     """Return the canonical text of a paper."""
     if paper[0] == "cut":
         _, price, rows, amounts = paper
-        lines = [f"cut {price}"] + [row_line(table, row) for table, row in rows] + way_lines(amounts)
+        lines = [f"cut {price}"] + row_lines("row", rows) + way_lines(amounts)
     elif paper[0] == "stands":
-        lines = [" ".join(["stands"] + number_texts(paper[1]))]
+        lines = [numbers_line("stands", paper[1])]
     else:
         triad, chains = paper
         lines = [" ".join(["triad", *triad])] + [" ".join(["chain", *chain]) for chain in chains]
     return "\n".join(lines)
 
 
+def numbers_line(word, numbers):
+    """Return the line of a word and integers."""
+    return " ".join([word] + number_texts(numbers))
+
+
 def way_lines(amounts):
     """Return the list of the lines of amounts on ways in a text."""
-    return [" ".join(["way", str(amount)] + number_texts(way)) for way, amount in amounts]
+    return [numbers_line(f"way {amount}", way) for way, amount in amounts]
 
 
 def judges(book, question, prices, pinned, text):
     """Return whether any text is that of a paper that is right."""
     need_pinned(book, question, prices, pinned)
-    try:
-        paper = parse_paper(text)
-    except SyntaxProblem:
+    paper = read_or_none(parse_paper, text)
+    if paper is None:
         return False
     if paper[0] in ("cut", "stands"):
         return shows_least(book, question, prices, pinned, paper)
     found = [line_tables(question, prices, pinned, piece) for piece in pieces(question)]
     return any([shows_triad(question, tables, paper) for tables in found])
+
+
+def read_or_none(parse, text):
+    """Return what a function reads in any object text, or None if it can't be read."""
+    if not isinstance(text, str):
+        return None
+    try:
+        return parse(text)
+    except SyntaxProblem:
+        return None
