@@ -1,17 +1,17 @@
 """A console that runs commands over a keeper."""
 
-from answercut.console import NONE, NOTHING, fraction_text, integer_of, listed, row_of
+from answercut.commands import COMMON, DEEDS, NONE, NOTHING, fraction_text, fractions_text, halves, integer_of
+from answercut.commands import listed, pairs_text, row_of, texts_of
 from answercut.errors import InvalidCommand
 from answercut.groups import all_gone, any_gone, sparing
 from answercut.keepers import Keeper
-from answercut.lines import loose_tables
 from answercut.orders import least_cuts
 from answercut.papers import format_claim, format_moving, format_order, format_roof, format_sets, judges_claim
 from answercut.papers import judges_order, judges_roof, parse_moving
 from answercut.readers import Page
 from answercut.roofs import Roof
-from answercut.texts import format_book, format_paper, format_prices, format_question, judges, number_texts, pair_text
-from answercut.texts import parse_prices, parse_question
+from answercut.texts import format_paper, format_prices, format_question, judges, number_texts, parse_prices
+from answercut.texts import parse_question
 from answercut.weights import growths
 
 
@@ -28,53 +28,18 @@ def _right_text(right):
     return "right" if right else "wrong"
 
 
-def _pairs_text(pairs):
-    return listed([pair_text(table, row) for table, row in pairs])
-
-
-def _table(keeper, words):
-    width = integer_of(words[1])
-    return _done(keeper.set_table(words[0], width))
-
-
-def _come(keeper, words):
-    return _done(keeper.come(words[0], row_of(words[1:])))
-
-
-def _go(keeper, words):
-    return _done(keeper.go(words[0], row_of(words[1:])))
-
-
-def _pin(keeper, words):
-    return _done(keeper.pin(words[0], row_of(words[1:])))
-
-
-def _unpin(keeper, words):
-    return _done(keeper.unpin(words[0], row_of(words[1:])))
-
-
-def _keep(keeper, parts):
-    question = parse_question(parts[1])
-    prices = parse_prices(parts[2])
-    return _done(keeper.keep(parts[0], question, prices))
-
-
-def _forget(keeper, words):
-    return _done(keeper.forget(words[0]))
-
-
 def _move(keeper, parts):
     moving = parse_moving(parts[1])
-    return _done(keeper.move(parts[0], moving))
+    return keeper.move(parts[0], moving)
 
 
 def _still(keeper, words):
-    return _done(keeper.still(words[0]))
+    return keeper.still(words[0])
 
 
 def _hold(keeper, words):
     what = _what(words[1:])
-    return _done(keeper.hold(words[0], what))
+    return keeper.hold(words[0], what)
 
 
 def _what(words):
@@ -95,12 +60,7 @@ def _pair_of(words):
 
 
 def _drop(keeper, words):
-    return _done(keeper.drop(integer_of(words[0])))
-
-
-def _back(keeper, words):
-    keeper.back(integer_of(words[0]))
-    return "ok"
+    return keeper.drop(integer_of(words[0]))
 
 
 def _cut(keeper, words):
@@ -110,7 +70,7 @@ def _cut(keeper, words):
 def _cuts(keeper, words):
     book, question, prices, pinned, _, _ = keeper.asked(words[0])
     found = least_cuts(book, question, prices, pinned)
-    return "\n".join([_pairs_text(cut) for cut in found]) if found else NONE
+    return "\n".join([pairs_text(cut) for cut in found]) if found else NONE
 
 
 def _roof(keeper, words):
@@ -133,7 +93,7 @@ def _at(keeper, words):
 def _below(keeper, words):
     t = _fraction_of(words[1:])
     told = keeper.roof_of(words[0])
-    return NONE if told[0] == "stands" else _pairs_text(Roof(told[1]).cut_at(t))
+    return NONE if told[0] == "stands" else pairs_text(Roof(told[1]).cut_at(t))
 
 
 def _fraction_of(words):
@@ -145,9 +105,7 @@ def _fraction_of(words):
 
 def _growths(keeper, words):
     book, question, prices, _, _, _ = keeper.asked(words[0])
-    chances = {table: {row: (1, 2) for row in book[table][1]} for table in loose_tables(question, prices)}
-    told = growths(book, question, chances)
-    return listed([f"{pair_text(table, row)} {fraction_text(growth)}" for table, row, growth in told])
+    return fractions_text(growths(book, question, halves(book, question, prices)))
 
 
 def _answer_of(text):
@@ -209,18 +167,6 @@ def _paper(keeper, words):
     return "\n".join([format_claim(claim, paper) for claim, paper in certificate])
 
 
-def _book(keeper, words):
-    return format_book(keeper.book_now())
-
-
-def _pins(keeper, words):
-    return _pairs_text(keeper.pinned())
-
-
-def _notes(keeper, words):
-    return str(len(keeper.notes()))
-
-
 def _questions(keeper, words):
     lines = []
     for name, question, prices, moving in keeper.questions():
@@ -234,17 +180,14 @@ def _held(keeper, words):
     return listed([f"{number} {name} {_right_text(right)}" for number, name, _, _, right in told])
 
 
-# By their first words: the commands whose rest is parted, those of words alone, and those that end with a row or more.
-PARTED = {
-    "keep": _keep, "move": _move, "judge": _judge, "all": _all, "any": _any, "spared": _spared,
+# By their first words: deeds, and what answers other commands, that the consoles do not share.
+MORE_DEEDS = {"move": _move, "still": _still, "hold": _hold, "drop": _drop}
+ANSWERS = {
+    "cut": _cut, "roof": _roof, "cuts": _cuts, "front": _front, "at": _at, "below": _below,
+    "growths": _growths, "all": _all, "any": _any, "spared": _spared, "judge": _judge, "paper": _paper,
+    "questions": _questions, "held": _held,
 }
-WORDED = {
-    "table": _table, "forget": _forget, "still": _still, "drop": _drop, "back": _back, "cut": _cut, "roof": _roof,
-    "cuts": _cuts, "front": _front, "at": _at, "below": _below, "growths": _growths, "paper": _paper,
-    "book": _book, "pins": _pins, "notes": _notes, "questions": _questions, "held": _held,
-}
-ENDING = {"come": _come, "go": _go, "pin": _pin, "unpin": _unpin, "hold": _hold}
-# How many parts, words behind the first one, and words ahead of the last ones they have.
+# How many parts they have, how many words behind the first one, or how many words ahead of the last ones.
 PARTS = {"keep": 3, "move": 2, "judge": 2, "all": 3, "any": 3, "spared": 4}
 WORDS = {
     "table": 2, "forget": 1, "still": 1, "drop": 1, "back": 1, "cut": 1, "roof": 1,
@@ -262,22 +205,12 @@ class KeeperConsole:
 
     def execute(self, line):
         """Run one command and return its answer."""
-        word, _, rest = line.partition(" ")
-        if word in PARTED:
-            return self._run_parted(word, rest.split(" : "))
-        words = line.split(" ")[1:]
-        if "" in words:
-            raise InvalidCommand("words have one space between two")
-        if word in WORDED and len(words) == WORDS[word]:
-            worded = WORDED[word]
-            return worded(self._keeper, words)
-        if word in ENDING and len(words) > AHEAD[word]:
-            ending = ENDING[word]
-            return ending(self._keeper, words)
-        raise InvalidCommand("there is no such command of as many words")
-
-    def _run_parted(self, word, parts):
-        if len(parts) != PARTS[word]:
-            raise InvalidCommand("the command has another number of parts")
-        parted = PARTED[word]
-        return parted(self._keeper, parts)
+        word, texts = texts_of(line, dict(PARTS), dict(WORDS), dict(AHEAD))
+        if word in DEEDS:
+            deed = DEEDS[word]
+            return _done(deed(self._keeper, texts))
+        if word in MORE_DEEDS:
+            more = MORE_DEEDS[word]
+            return _done(more(self._keeper, texts))
+        answer = COMMON[word] if word in COMMON else ANSWERS[word]
+        return answer(self._keeper, texts)

@@ -4,7 +4,7 @@ from answercut.books import is_integer
 from answercut.errors import AnswerError, NameTaken, NoMark, NoPrice, NoQuestion, TooMany
 from answercut.roofs import need_moving
 from answercut.views import View
-from answercut.watches import Watch
+from answercut.watches import Watch, need_mark
 
 MOST_HELD = 30
 
@@ -141,8 +141,7 @@ class Keeper:
 
     def back(self, number):
         """Go back to behind the first so many deeds."""
-        if not is_integer(number) or not 0 <= number <= len(self._deeds):
-            raise NoMark("there are not so many deeds")
+        need_mark(number, self._deeds)
         if number < len(self._deeds):
             self._state = self._earlier[number]
             self._deeds = self._deeds[:number]

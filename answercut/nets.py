@@ -82,18 +82,32 @@ def need_pinned(book, question, prices, pinned):
     """Raise NoQuestion, NoPrice or NoRow unless any objects are a closed question, its prices and pinned rows."""
     need_closed(book, question)
     need_prices(question, prices)
+    need_loose(book, prices, pinned)
+
+
+def need_loose(book, prices, pinned):
+    """Raise NoRow if any object pinned is neither None nor an ascending tuple of different loose rows."""
     if pinned is not None and not are_loose_rows(book, prices, pinned):
         raise NoRow("the pinned rows are no ascending tuple of different loose rows")
 
 
 def piece_lines(question, prices, pinned):
     """Return the list of the told lines of the pieces, or raise NoLine for the first one without a line."""
-    return [need_line(question, line_tables(question, prices, pinned, piece)) for piece in pieces(question)]
+    return lines_of(question, line_tables(question, prices, pinned))
 
 
-def line_tables(question, prices, pinned, piece):
-    """Return the tuple of the tables of a piece that are to stand in its line."""
-    tables = ruling(question, prices) if pinned is None else loose_tables(question, prices)
+def line_tables(question, prices, pinned):
+    """Return the tuple of the tables that are to stand in the lines of the pieces."""
+    return ruling(question, prices) if pinned is None else loose_tables(question, prices)
+
+
+def lines_of(question, tables):
+    """Return the list of the told lines of some tables, piece by piece, or raise NoLine."""
+    return [need_line(question, tables_in(tables, piece)) for piece in pieces(question)]
+
+
+def tables_in(tables, piece):
+    """Return the tuple of those of some tables that are in a piece."""
     return tuple([table for table in tables if table in piece])
 
 

@@ -1,11 +1,11 @@
 """Roofs: the least prices of cuts while prices move, and their judge."""
 
-from answercut.amounts import are_amounts, are_loose_rows, fit, total
-from answercut.books import is_integer, rises
-from answercut.errors import NoPrice, NoRow
-from answercut.lines import loose_tables, need_line, ruling_by
-from answercut.nets import as_keys, courses_of, cut_of_courses, is_cut, is_standing
-from answercut.questions import need_closed, pieces
+from answercut.amounts import are_amounts, fit, total
+from answercut.books import is_integer
+from answercut.errors import NoPrice
+from answercut.lines import loose_tables, ruling_by
+from answercut.nets import as_keys, courses_of, cut_of_courses, is_cut, is_standing, lines_of, need_loose
+from answercut.questions import need_closed
 from answercut.shares import lowest
 
 MOST_MOVING = 10 ** 13
@@ -35,7 +35,8 @@ def _is_moving(thing):
 def roof(book, question, moving, pinned):
     """Return ("roof", stretches, papers), or ("stands", way) if there is no cut."""
     need_roofed(book, question, moving, pinned)
-    courses = courses_of(book, question, moving, pinned, _moving_lines(question, moving, pinned))
+    tables = ruling_by(question, moving) if pinned is None else loose_tables(question, moving)
+    courses = courses_of(book, question, moving, pinned, lines_of(question, tables))
     last = cut_of_courses(question, courses, _prices_at(moving, (FINE, 1)), {})
     if last[0] == "stands":
         return last
@@ -56,14 +57,8 @@ def need_roofed(book, question, moving, pinned):
     """Raise NoQuestion, NoPrice or NoRow unless any objects are a closed question, moving prices and pinned rows."""
     need_closed(book, question)
     need_moving(question, moving)
-    if pinned is not None and not are_loose_rows(book, moving, pinned):
-        raise NoRow("the pinned rows are no ascending tuple of different rows that are not firm")
-
-
-def _moving_lines(question, moving, pinned):
-    """Return the list of the told lines of the pieces at every t, or raise NoLine for the first one without a line."""
-    tables = ruling_by(question, moving) if pinned is None else loose_tables(question, moving)
-    return [need_line(question, tuple([table for table in tables if table in piece])) for piece in pieces(question)]
+    # Of moving prices, too, those of firm tables are None.
+    need_loose(book, moving, pinned)
 
 
 def _prices_at(moving, t):

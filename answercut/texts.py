@@ -4,7 +4,7 @@ from answercut.amounts import MOST_AMOUNT
 from answercut.books import MOST_ROWS, MOST_TABLES, MOST_WIDTH, MOST_WORTH
 from answercut.errors import SyntaxProblem
 from answercut.lines import shows_triad
-from answercut.nets import line_tables, need_pinned, shows_least
+from answercut.nets import line_tables, need_pinned, shows_least, tables_in
 from answercut.questions import MOST_ATOMS, MOST_NAMES, MOST_PARTS, pieces
 from answercut.readers import Page, Reader, number_of, tokens_of
 
@@ -269,8 +269,8 @@ def judges(book, question, prices, pinned, text):
         return False
     if paper[0] in ("cut", "stands"):
         return shows_least(book, question, prices, pinned, paper)
-    found = [line_tables(question, prices, pinned, piece) for piece in pieces(question)]
-    return any([shows_triad(question, tables, paper) for tables in found])
+    tables = line_tables(question, prices, pinned)
+    return any([shows_triad(question, tables_in(tables, piece), paper) for piece in pieces(question)])
 
 
 def read_or_none(parse, text):

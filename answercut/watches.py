@@ -113,8 +113,7 @@ class Watch:
 
     def back(self, number):
         """Go back to behind the first so many deeds."""
-        if not is_integer(number) or not 0 <= number <= len(self._deeds):
-            raise NoMark("there are not so many deeds")
+        need_mark(number, self._deeds)
         if number < len(self._deeds):
             self._state = self._earlier[number]
             self._deeds = self._deeds[:number]
@@ -133,6 +132,12 @@ class Watch:
         self._state = (book, pins, kept, told)
         gone = [name for name in before if name not in told]
         return gone + [name for name in told if name not in before or _gist(before[name]) != _gist(told[name])]
+
+
+def need_mark(number, deeds):
+    """Raise NoMark unless any object number is an integer from 0 to the number of some deeds."""
+    if not is_integer(number) or not 0 <= number <= len(deeds):
+        raise NoMark("there are not so many deeds")
 
 
 def pins_of(pins, prices):
