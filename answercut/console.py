@@ -95,5 +95,8 @@ class Console:
         if word in DEEDS:
             deed = DEEDS[word]
             return _turned(deed(self._watch, texts))
-        answer = COMMON[word] if word in COMMON else ANSWERS[word]
+        if word in COMMON:
+            common = COMMON[word]
+            return common(self._watch, texts)
+        answer = ANSWERS[word]
         return answer(self._watch, texts)

@@ -78,10 +78,10 @@ def sparing(book, question, prices, going, staying):
     for rows in choices:
         courses = [Course(part, prices, rows, line, found) for part, line, found in laid]
         cuts.append(cut_of_courses(closed, courses, prices, {}))
-    known = [cut[:3] for cut in cuts if cut[0] == "cut"]
+    known = [cut[1] for cut in cuts if cut[0] == "cut"]
     if not known:
         return "none", tuple([(rows, cut[1]) for rows, cut in zip(choices, cuts)])
-    price = min([each[1] for each in known])
+    price = min(known)
     papers = tuple([(rows, _carried(cut, price)) for rows, cut in zip(choices, cuts)])
     kept, lost = [(rows, cut[2]) for rows, cut in zip(choices, cuts) if cut[:2] == ("cut", price)][0]
     return "spared", price, lost, choices[kept], papers
@@ -123,7 +123,7 @@ def _choices(book, question, prices, staying):
         closed = put_answer(question, answer)
         sets = {}
         for way in ways(book, closed):
-            sets.setdefault(tuple(sorted(open_rows(closed, prices, way, None))), way)
+            sets.setdefault(tuple(open_rows(closed, prices, way, None)), way)
         many = many * len(sets)
         if many > MOST_CHOICES:
             raise TooMany(MOST_CHOICES)

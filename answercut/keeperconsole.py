@@ -171,7 +171,9 @@ def _questions(keeper, words):
     lines = []
     for name, question, prices, moving in keeper.questions():
         texts = [name, format_question(question), format_prices(prices)]
-        lines.append(" : ".join(texts if moving is None else texts + [format_moving(moving)]))
+        if moving is not None:
+            texts.append(format_moving(moving))
+        lines.append(" : ".join(texts))
     return "\n".join(lines) if lines else NOTHING
 
 
@@ -212,5 +214,8 @@ class KeeperConsole:
         if word in MORE_DEEDS:
             more = MORE_DEEDS[word]
             return _done(more(self._keeper, texts))
-        answer = COMMON[word] if word in COMMON else ANSWERS[word]
+        if word in COMMON:
+            common = COMMON[word]
+            return common(self._keeper, texts)
+        answer = ANSWERS[word]
         return answer(self._keeper, texts)

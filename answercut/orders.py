@@ -93,15 +93,20 @@ def _order_of(course, opened):
 def order_papers(book, question, prices, pinned, order):
     """Return (amounts, papers), the certificate of an order that orders returned for the same arguments."""
     opened = open_prices(question, prices, pinned)
+    held = as_keys(held_rows(pinned))
     courses = open_courses(book, question, opened, pinned)
     first, steps = order.plain()
-    price = price_of(opened, first)
+    amounts = cut_of_courses(question, courses, opened, {})[3]
     course = [each for each in courses if first[0] in each.kept][0]
     papers = []
     for claim in _claims_of(first, steps, [pair for pair, kept in course.kept.items() if not kept]):
-        changed = cut_of_courses(question, courses, opened, changes_of(claim))
-        papers.append((claim, (price, first, tuple(up_to(changed[3], sum_of(claim, price))))))
-    return cut_of_courses(question, courses, opened, {})[3], tuple(papers)
+        most = sum_of(claim, total(amounts))
+        found = tuple(up_to(amounts, most))
+        # Mostly the amounts that are known leave enough room.
+        if not fit(question, opened, found, held, changes_of(claim)):
+            found = tuple(up_to(cut_of_courses(question, courses, opened, changes_of(claim))[3], most))
+        papers.append((claim, (total(amounts), first, found)))
+    return amounts, tuple(papers)
 
 
 def _claims_of(first, steps, rows):

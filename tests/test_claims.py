@@ -207,6 +207,39 @@ class JudgeTest(unittest.TestCase):
                     taken += self.agree(case, (kind, *claim[:0:-1]), paper)
         self.assertGreater(taken, 40)
 
+    def test_amounts_moved_from_way_to_way(self):
+        """Amounts of the due sum at the bounds and beyond them, for each kind of claims and each cut."""
+        taken = dict.fromkeys(surveys.KINDS, 0)
+        left = dict.fromkeys(surveys.KINDS, 0)
+        for source, *case in surveys.cases(36000, 120, 3, 5):
+            pairs = surveys.open_pairs(*case)
+            price, cuts = surveys.all_least(*case)
+            if not price or len(pairs) < 2:
+                continue
+            amounts = dict(about_row(*case, pairs[0])[1][1][2])
+            ways = references.ways(case[0], case[1])
+            for kind in surveys.KINDS:
+                one, other = source.sample(pairs, 2)
+                claim = (kind, one) if kind in surveys.KINDS[:4] else (kind, one, other)
+                due = price + {"each": 1, "never both": -1}.get(kind, 0)
+                for _ in range(12):
+                    changed = dict(amounts)
+                    for _ in range(source.randint(0, 2)):
+                        way = source.choice(list(changed))
+                        changed[way] -= 1
+                        more = source.choice(ways)
+                        changed[more] = changed.get(more, 0) + 1
+                        changed = {way: amount for way, amount in changed.items() if amount}
+                    while changed and sum(changed.values()) != due:
+                        way = source.choice(ways)
+                        changed[way] = changed.get(way, 0) + (1 if sum(changed.values()) < due else -1)
+                        changed = {way: amount for way, amount in changed.items() if amount > 0}
+                    told = self.agree(case, claim, (price, source.choice(cuts), tuple(sorted(changed.items()))))
+                    taken[kind] += told
+                    left[kind] += not told
+        self.assertGreater(min(taken.values()), 10)
+        self.assertGreater(min(left.values()), 10)
+
     def test_no_false_claim_is_shown(self):
         """All small certificates for all claims, in questions with lines and without."""
         for source, book, question, prices, pinned in surveys.cases(35000, 60, 3, 2):

@@ -466,6 +466,69 @@ class JudgeTest(unittest.TestCase):
         # Without the second step a row is in no cut that is told, and yet in a least one.
         self.assertIsNone(papers_of(case, first, steps[:1]))
 
+    def small(self, prices, **tables):
+        """A question a(x), b(x), .. with the pinned rows (), and the tables' rows by their names."""
+        book = {table: (1, tuple((row,) for row in rows)) for table, rows in tables.items()}
+        return book, ((), tuple((table, ("x",)) for table in tables)), dict(zip(tables, prices)), ()
+
+    def refused(self, case, first, steps, amounts):
+        """Nothing but what is asked of the steps and cuts is wrong: all claims are shown."""
+        papers = papers_of(case, first, steps)
+        self.assertIsNotNone(papers)
+        self.assertTrue(all(surveys.judge_claim(*case, *paper) for paper in papers))
+        self.assertFalse(self.agree(case, (first, steps, amounts, papers)))
+
+    def test_each_closed_set_leads_to_a_cut(self):
+        book = {"a": (1, ((0,),)), "b": (2, ((0, 0), (0, 1)))}
+        case = book, ((), (("a", ("x",)), ("b", ("x", "y")))), {"a": 1, "b": 1}, ()
+        a, b = ("a", (0,)), ("b", (0, 0))
+        self.refused(case, (a,), (((a,), (b,), ()),), (((0, 0), 1),))
+        # Nor is the first cut one, if it lacks a row and has one of no way.
+        case = self.small((1,), a=(0, 1))
+        self.assertFalse(self.agree(case, ((("a", (0,)),), (), (((0,), 1),), ())))
+
+    def test_a_row_leaves_once(self):
+        case = self.small((1, 1, 1), a=(0,), b=(0,), c=(0,))
+        a, b, c = [(table, (0,)) for table in "abc"]
+        self.refused(case, (a,), (((a,), (b,), ()), ((a,), (c,), ())), (((0,), 1),))
+        self.refused(case, (a,), (((a,), (b,), ()), ((a,), (c,), (0,))), (((0,), 1),))
+        steps = ((a,), (b,), ()), ((b,), (c,), (0,))
+        self.assertTrue(self.agree(case, ((a,), steps, (((0,), 1),), papers_of(case, (a,), steps))))
+
+    def test_a_row_that_leaves_is_there(self):
+        case = self.small((1, 2), a=(0, 9), b=(0,))
+        a, none, b = ("a", (0,)), ("a", (9,)), ("b", (0,))
+        self.refused(case, (a,), (((a, none), (b,), ()),), (((0,), 1),))
+        case = self.small((1, 1, 1), a=(0,), b=(0,), c=(0,))
+        a, b, c = [(table, (0,)) for table in "abc"]
+        # b comes by a step that is not ahead of the one by which it leaves.
+        self.refused(case, (a,), (((a,), (b,), ()), ((b,), (c,), ())), (((0,), 1),))
+
+    def test_all_steps_ahead_are_told(self):
+        case = self.small((1, 1, 1, 1), a=(0,), b=(0,), c=(0,), d=(0,))
+        a, b, c, d = [(table, (0,)) for table in "abcd"]
+        self.refused(case, (a,), (((a,), (b,), ()), ((b,), (c,), (0,)), ((c,), (d,), (1,))), (((0,), 1),))
+
+    def test_steps_without_rows_and_odd_numbers(self):
+        case = self.small((1, 1), a=(0,), b=(0,))
+        a, b = ("a", (0,)), ("b", (0,))
+        step = ((a,), (b,), ())
+        papers = papers_of(case, (a,), (step,))
+        self.assertTrue(self.agree(case, ((a,), (step,), (((0,), 1),), papers)))
+        empty = (), (), ()
+        for steps in ((step, empty), (empty, step), (((a,), (b,), (0,)),), (((a,), (b,), (-1,)),), (step, ((), (), (0, 0)))):
+            self.assertFalse(self.agree(case, ((a,), steps, (((0,), 1),), papers)), steps)
+        for steps in ((((a,), (), ()),), (((), (b,), ()),)):
+            self.assertIs(shows_order(*case, ((a,), steps, (((0,), 1),), papers)), False)
+        case = self.small((1, 1, 1), a=(0, 1), b=(0, 1), c=(0, 1))
+        a, b, c = [[(table, (k,)) for k in (0, 1)] for table in "abc"]
+        first, steps = tuple(a), [((a[0],), (b[0],), ()), ((a[1],), (b[1],), ()), (tuple(b), tuple(c), (0, 1))]
+        amounts = (((0,), 1), ((1,), 1))
+        for ahead in ((1, 0), (0, 1, 1), (0, 2), (0, 3), (-1, 0), (-3, -2), (0, True), [0, 1]):
+            other = tuple(steps[:2] + [(*steps[2][:2], ahead)])
+            self.assertFalse(self.agree(case, (first, other, amounts, ())), ahead)
+            self.assertIs(surveys.is_order(*case, first, other), False, ahead)
+
     def test_rows_of_two_pieces_and_unequal_prices(self):
         book = {"a": (1, ((1,),)), "b": (1, ((1,),)), "c": (1, ((1,),)), "d": (1, ((1,),))}
         question = (), (("a", ("x",)), ("b", ("x",)), ("c", ("y",)), ("d", ("y",)))
@@ -613,6 +676,11 @@ class BetweenTest(unittest.TestCase):
             self.assertEqual(raised(cuts_between, *case, right, thing), (NoRow, {}), shown(thing))
             self.assertEqual(raised(cuts_between, *case, thing, right), (NoRow, {}), shown(thing))
         self.assertEqual(raised(cuts_between, book, question, prices, right, right, far), (NoRow, {}))
+        # The empty tuple is none, though the piece has no way without it.
+        none = {**book, "m": (2, ())}
+        self.assertEqual(cuts_between(none, question, prices, None, right, far), ((), right + far))
+        for one, other in ((right, ()), ((), right), ((), ())):
+            self.assertEqual(raised(cuts_between, none, question, prices, None, one, other), (NoRow, {}))
         self.assertEqual(cuts_between(book, question, prices, right, far, far), (far, far))
 
     def test_errors_ahead(self):

@@ -300,6 +300,35 @@ class JudgeTest(unittest.TestCase):
             thing = "roof", ((t, *first[1:]), second), told[2]
             self.assertIs(shows_roof(BOOK, QUESTION, MOVING, None, thing), False, t)
 
+    def test_fractions_not_in_lowest_terms_with_their_amounts(self):
+        told = roof(BOOK, QUESTION, MOVING, None)
+        first, second = told[1]
+        doubled = tuple((way, 2 * amount) for way, amount in told[2][1])
+        self.assertIs(shows_roof(BOOK, QUESTION, MOVING, None, ("roof", (first, ((2, 2), *second[1:])), (told[2][0], doubled, told[2][2]))), False)
+        doubled = tuple((way, 2 * amount) for way, amount in told[2][0])
+        self.assertIs(shows_roof(BOOK, QUESTION, MOVING, None, ("roof", (((0, 2), *first[1:]), second), (doubled, *told[2][1:]))), False)
+
+    def test_a_stretch_parted_with_amounts_for_both_parts(self):
+        told = roof(BOOK, QUESTION, MOVING, None)
+        first, second = told[1]
+        for t, at in (((1, 2), 1), ((3, 1), 2)):
+            prices = {table: a * t[1] + b * t[0] for table, (a, b) in MOVING.items()}
+            amounts = least_cut(BOOK, QUESTION, prices, ())[3]
+            stretches, papers = list(told[1]), list(told[2])
+            stretches.insert(at, (t, *told[1][at - 1][1:]))
+            papers.insert(at, amounts)
+            self.assertEqual(sum(amount for _, amount in amounts), stretches[at][1] * t[1] + stretches[at][2] * t[0])
+            self.assertIs(self.agree((BOOK, QUESTION, MOVING, None), ("roof", tuple(stretches), tuple(papers))), False)
+
+    def test_sums_that_are_not_those_of_the_rows(self):
+        book, question, moving = {"a": (1, ((1,),))}, ((), (("a", ("x",)),)), {"a": (2, 3)}
+        rows = (("a", (1,)),)
+        for a, b in ((0, 0), (1, 0), (2, 2), (1, 3)):
+            papers = tuple((((1,), amount),) if amount else () for amount in (a, b))
+            self.assertFalse(self.agree((book, question, moving, None), ("roof", (((0, 1), a, b, rows),), papers)))
+        papers = ((((1,), 2),), (((1,), 3),))
+        self.assertTrue(self.agree((book, question, moving, None), ("roof", (((0, 1), 2, 3, rows),), papers)))
+
     def test_other_rows_of_the_same_sums(self):
         book = {"a": (1, ((1,),)), "b": (1, ((1,),))}
         question = (), (("a", ("x",)), ("b", ("x",)))
