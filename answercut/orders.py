@@ -47,13 +47,14 @@ class Order:
 
 def _closed_sets(steps):
     """Return the list of the closed sets of steps, lists of numbers, if they are not too many."""
-    found = [[]]
+    # As the bits of integers: there may be many steps.
+    found = [0]
     for number, step in enumerate(steps):
-        longer = [chosen + [number] for chosen in found if all([ahead in chosen for ahead in step[2]])]
-        found = found + longer
+        ahead = sum([1 << other for other in step[2]])
+        found = found + [bits | (1 << number) for bits in found if bits & ahead == ahead]
         if len(found) > MOST_CUTS:
             raise TooMany(MOST_CUTS)
-    return found
+    return [[number for number in range(len(steps)) if (bits >> number) & 1 == 1] for bits in found]
 
 
 def orders(book, question, prices, pinned):

@@ -5,6 +5,7 @@ It does not see all of them: the document is read besides.
 
 import ast
 import builtins
+import functools
 import pathlib
 import unittest
 import warnings
@@ -47,14 +48,17 @@ def files():
     return sorted(path for path in PACKAGE.rglob("*") if path.is_file() and "__pycache__" not in path.parts)
 
 
+@functools.cache
 def trees():
     return [(path, ast.parse(path.read_text(encoding="utf-8"))) for path in files()]
 
 
+@functools.cache
 def nodes(kind):
     return [(path, node) for path, tree in trees() for node in ast.walk(tree) if isinstance(node, kind)]
 
 
+@functools.cache
 def bound_names():
     found = []
     for path, node in nodes((ast.FunctionDef, ast.ClassDef, ast.arg, ast.Name, ast.ExceptHandler)):

@@ -517,7 +517,8 @@ class JudgeTest(unittest.TestCase):
         self.assertTrue(self.agree(case, ((a,), (step,), (((0,), 1),), papers)))
         empty = (), (), ()
         for steps in ((step, empty), (empty, step), (((a,), (b,), (0,)),), (((a,), (b,), (-1,)),), (step, ((), (), (0, 0)))):
-            self.assertFalse(self.agree(case, ((a,), steps, (((0,), 1),), papers)), steps)
+            for some in (papers, papers_of(case, (a,), steps)):
+                self.assertFalse(self.agree(case, ((a,), steps, (((0,), 1),), some)), steps)
         for steps in ((((a,), (), ()),), (((), (b,), ()),)):
             self.assertIs(shows_order(*case, ((a,), steps, (((0,), 1),), papers)), False)
         case = self.small((1, 1, 1), a=(0, 1), b=(0, 1), c=(0, 1))
@@ -526,7 +527,8 @@ class JudgeTest(unittest.TestCase):
         amounts = (((0,), 1), ((1,), 1))
         for ahead in ((1, 0), (0, 1, 1), (0, 2), (0, 3), (-1, 0), (-3, -2), (0, True), [0, 1]):
             other = tuple(steps[:2] + [(*steps[2][:2], ahead)])
-            self.assertFalse(self.agree(case, (first, other, amounts, ())), ahead)
+            some = () if max(ahead) > 2 or isinstance(ahead, list) else papers_of(case, first, other)
+            self.assertFalse(self.agree(case, (first, other, amounts, some)), ahead)
             self.assertIs(surveys.is_order(*case, first, other), False, ahead)
 
     def test_rows_of_two_pieces_and_unequal_prices(self):
