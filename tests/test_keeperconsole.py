@@ -359,8 +359,12 @@ class WholeTest(unittest.TestCase):
             for table, width in WIDTHS.items():
                 console.execute(f"table {table} {width}")
                 keeper.set_table(table, width)
+            for name in "psq"[:source.randint(0, 3)]:
+                prices = {table: source.randint(1, 2) for table, _ in QUESTIONS[name][1]}
+                console.execute(f"keep {name} : {format_question(QUESTIONS[name])} : {format_prices(prices)}")
+                keeper.keep(name, QUESTIONS[name], prices)
             for _ in range(60):
-                if source.random() < 0.05:
+                if source.random() < 0.03:
                     mark = source.randint(len(keeper.notes()) // 2, len(keeper.notes()))
                     self.assertEqual(console.execute(f"back {mark}"), "ok")
                     keeper.back(mark)
@@ -372,7 +376,8 @@ class WholeTest(unittest.TestCase):
                 self.assertEqual(told, expected, line)
                 kinds.add((word, expected[0]))
                 self.compare(source, console, keeper)
-        self.assertGreaterEqual(len(kinds), 20)
+        words = {word for word, told in kinds if told == "returned"}
+        self.assertEqual(words, {"come", "go", "pin", "unpin", "keep", "forget", "move", "still", "hold", "drop"})
 
     def compare(self, source, console, keeper):
         self.assertEqual(console.execute("book"), format_book(keeper.book_now()))
@@ -419,10 +424,13 @@ class WholeTest(unittest.TestCase):
     def roof(self, source, console, keeper, name, moving):
         told = keeper.roof_of(name)
         self.assertEqual(console.execute(f"roof {name}"), format_roof(told))
-        self.assertEqual(console.execute(f"judge {name} : {format_roof(told)}"), "yes")
         if told[0] == "stands":
+            # By its first word this text is judged by the prices, not by the moving prices.
+            right = references.judge_least(*keeper.asked(name)[:4], told)
+            self.assertEqual(console.execute(f"judge {name} : {format_roof(told)}"), "yes" if right else "no")
             self.assertEqual([console.execute(line) for line in (f"front {name}", f"at {name} 1 2", f"below {name} 1 2")], ["none"] * 3)
             return
+        self.assertEqual(console.execute(f"judge {name} : {format_roof(told)}"), "yes")
         self.assertEqual(console.execute(f"front {name}"), ", ".join([f"{a} {b}" for _, a, b, _ in told[1]]))
         over, under = source.randint(0, 4), source.randint(1, 3)
         stretch = [each for each in told[1] if each[0][0] * under <= over * each[0][1]][-1]

@@ -245,6 +245,7 @@ QUESTIONS = {
     "q": ((), (("b", ("x", "y")), ("c", ("y",)))),
     "o": ((), (("a", ("x",)), ("b", ("x", "y")), ("c", ("y",)))),
     "z": ((), (("b", (0, "y")), ("a", ("w",)))),
+    "s": ((), (("b", ("x", "y")),)),
     "d": ((), (("b", ("p", "q")), ("d", ("q", "w")), ("e", ("w", "p")), ("a", ("p",)))),
 }
 WIDTHS = {"a": 1, "b": 2, "c": 1, "d": 2, "e": 2}
@@ -500,6 +501,28 @@ class HeldTest(History):
         self.assertEqual([each[4] for each in self.keeper.certificates()], [False] * 4)
         self.do("pin", "a", (1,))
         self.assertEqual([each[4] for each in self.keeper.certificates()], [True] * 4)
+
+    def test_another_way_that_stands_turns_nothing(self):
+        self.do("keep", "p", ((), (("a", ("x",)),)), {"a": None})
+        self.do("move", "p", {"a": None})
+        self.assertEqual(self.keeper.told("p"), ("stands", (1,)))
+        self.do("come", "a", (0,))
+        self.assertEqual((self.keeper.told("p"), self.keeper.roof_of("p")), (("stands", (0,)),) * 2)
+        self.assertEqual(self.keeper.go("a", (1,)), ([("q", ("cut", "orders"))], []))
+        self.assertEqual(self.keeper.come("a", (2,)), ([], []))
+        self.assertEqual(self.keeper.go("a", (0,)), ([], []))
+        self.assertEqual(self.keeper.roof_of("p"), ("stands", (2,)))
+        self.assertEqual(self.keeper.go("a", (2,)), ([("p", ("cut", "roof"))], []))
+
+    def test_both_claims_are_to_be_right(self):
+        self.do("hold", "q", (("a", (1,)),))
+        self.assertEqual([claim[0] for claim, _ in self.keeper.certificates()[0][3]], ["each", "some"])
+        self.do("come", "b", (7, 7))
+        # Behind a pin no table is ruled: some least cut has the row of a, not each.
+        self.assertEqual(self.keeper.pin("b", (7, 7)), ([("q", ("orders",))], [(0, False)]))
+        _, some = self.keeper.certificates()[0][3]
+        question, prices = QUESTION, {"a": 1, "b": 1}
+        self.assertIs(shows_claim(self.keeper.book_now(), question, prices, (("b", (7, 7)),), *some), True)
 
     def test_no_order_is_held(self):
         self.do("go", "a", (1,))
