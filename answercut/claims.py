@@ -1,10 +1,10 @@
 """Claims about the rows of least cuts, their certificates, and the judge of these."""
 
-from answercut.amounts import are_amounts, fit, price_of, total, up_to
+from answercut.amounts import price_of, up_to
 from answercut.books import is_integer
 from answercut.errors import NoRow
-from answercut.nets import as_keys, cut_of_courses, is_cut, need_pinned
-from answercut.openings import are_open_rows, held_rows, is_open_row, open_courses, open_prices
+from answercut.nets import cut_of_courses, is_cut, need_pinned
+from answercut.openings import are_open_amounts, are_open_rows, is_open_row, open_courses, open_prices
 
 # By the kind of a claim: the places of those of its rows that the cut of a certificate has, of those that it has not,
 # how much more than its price each of its rows may carry, and how much more than the cut's price is carried in all.
@@ -86,11 +86,10 @@ def shows_claim(book, question, prices, pinned, claim, thing):
     pairs = claim[1:]
     if not all([pairs[at] in rows for at in inside]) or any([pairs[at] in rows for at in outside]):
         return False
-    if price != price_of(opened, rows) or not are_amounts(book, question, amounts):
+    if price != price_of(opened, rows):
         return False
-    if total(amounts) != sum_of(claim, price):
-        return False
-    return fit(question, opened, amounts, as_keys(held_rows(pinned)), changes_of(claim))
+    due = sum_of(claim, price)
+    return are_open_amounts(book, question, opened, pinned, changes_of(claim), due, amounts)
 
 
 def _is_claim(book, opened, pinned, thing):

@@ -3,9 +3,9 @@
 With the ruled tables made firm, where nothing is pinned, the open rows are the loose ones that are not pinned.
 """
 
-from answercut.amounts import are_loose_rows, is_loose_row
+from answercut.amounts import are_amounts, are_loose_rows, fit, is_loose_row, total
 from answercut.lines import ruling
-from answercut.nets import courses_of, piece_lines
+from answercut.nets import as_keys, courses_of, piece_lines
 from answercut.questions import meaning_of, part_names
 
 
@@ -33,6 +33,16 @@ def are_open_rows(book, opened, pinned, thing):
         return False
     held = held_rows(pinned)
     return not any([pair in held for pair in thing])
+
+
+def are_open_amounts(book, question, opened, pinned, changes, due, thing):
+    """Return whether any object is amounts with a sum that is due, with bounds for open rows alone.
+
+    Changes are a dict from pairs to how much more than their prices they may carry.
+    """
+    if not are_amounts(book, question, thing) or total(thing) != due:
+        return False
+    return fit(question, opened, thing, as_keys(held_rows(pinned)), changes)
 
 
 def open_courses(book, question, opened, pinned):

@@ -1,11 +1,11 @@
 """The orders of all least cuts, their certificates, and the judge of these."""
 
-from answercut.amounts import are_amounts, fit, open_rows, price_of, total, up_to
+from answercut.amounts import fit, open_rows, price_of, total, up_to
 from answercut.books import is_integer, rises, without_rows
 from answercut.claims import changes_of, shows_claim, sum_of
 from answercut.errors import NoRow, TooMany
 from answercut.nets import as_keys, cut_of_courses, need_pinned, piece_lines
-from answercut.openings import are_open_rows, has_way, held_rows, open_courses, open_prices
+from answercut.openings import are_open_amounts, are_open_rows, has_way, held_rows, open_courses, open_prices
 from answercut.questions import part_of, pieces, rows_of, ways
 from answercut.steps import steps_along
 
@@ -124,7 +124,6 @@ def shows_order(book, question, prices, pinned, thing):
     """Return whether any object is (nearest cut, steps, amounts, papers) and shows that all least cuts are told."""
     need_pinned(book, question, prices, pinned)
     opened = open_prices(question, prices, pinned)
-    held = as_keys(held_rows(pinned))
     if not isinstance(thing, tuple) or len(thing) != 4:
         return False
     first, steps, amounts, papers = thing
@@ -132,22 +131,24 @@ def shows_order(book, question, prices, pinned, thing):
         return False
     if not _is_order(question, opened, first, steps):
         return False
-    if not are_amounts(book, question, amounts) or total(amounts) != price_of(opened, first):
+    if not are_open_amounts(book, question, opened, pinned, {}, price_of(opened, first), amounts):
         return False
-    if not fit(question, opened, amounts, held, {}):
-        return False
-    chosen = _closed_sets(steps)
-    parts = [part_of(question, piece) for piece in pieces(question)]
-    found = [(part, ways(book, part)) for part in parts]
-    made = [
-        open_rows(part, opened, way, held)
-        for part, some in found if first[0][0] in dict(part[1]) for way in some
-    ]
     order = Order(first, steps)
-    if not all([_cuts_all(made, order.cut(numbers)) for numbers in chosen]):
+    cuts = [as_keys(order.cut(chosen)) for chosen in _closed_sets(steps)]
+    made = _open_rows_of_ways(book, question, opened, pinned, first[0][0])
+    # The question holds, as a way carries something, so that a cut of rows of one piece cuts this piece.
+    if not all([any([pair in cut for pair in rows]) for cut in cuts for rows in made]):
         return False
     claims = _claims_of(first, steps, sorted({pair for rows in made for pair in rows}))
     return _are_papers(book, question, prices, pinned, claims, papers)
+
+
+def _open_rows_of_ways(book, question, opened, pinned, table):
+    """Return for each way of the piece with a table the list of its open rows; no piece may be too large."""
+    held = as_keys(held_rows(pinned))
+    parts = [part_of(question, piece) for piece in pieces(question)]
+    found = [(part, ways(book, part)) for part in parts]
+    return [open_rows(part, opened, way, held) for part, some in found if table in dict(part[1]) for way in some]
 
 
 def _are_steps(book, opened, pinned, thing):
@@ -183,11 +184,6 @@ def _is_of_one_piece(question, rows):
     """Return whether there are rows, and all have tables of the same piece."""
     found = [piece for piece in pieces(question) if any([table in piece for table, _ in rows])]
     return len(found) == 1
-
-
-def _cuts_all(made, cut):
-    """Return whether each of some lists of rows has one of a cut."""
-    return all([any([pair in cut for pair in rows]) for rows in made])
 
 
 def _are_papers(book, question, prices, pinned, claims, thing):

@@ -251,7 +251,8 @@ def at(moving, t):
 
 def least_at(book, question, moving, pinned, t):
     """The least price at t by all sets of rows that are not firm, None if there is no cut."""
-    price, cuts = references.least_cuts(book, question, at(moving, t), pinned, references.loose_tables(question, moving))
+    price, cuts = references.least_cuts(book, question, at(moving, t), pinned,
+        references.loose_tables(question, moving))
     return price if cuts else None
 
 

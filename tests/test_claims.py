@@ -146,7 +146,8 @@ class ErrorsTest(unittest.TestCase):
         question = ((), (("a", ("x",)), ("b", ("x",)), ("c", ("x",))))
         # With nothing pinned a rules b; c is firm.
         prices = {"a": 1, "b": 1, "c": None}
-        wrong = [("b", (1,)), ("c", (1,)), ("a", (2,)), ("a", (True,)), ["a", (1,)], ("z", (1,)), ("a", 1), ("a", (1, 1))]
+        wrong = [("b", (1,)), ("c", (1,)), ("a", (2,)), ("a", (True,)), ["a", (1,)], ("z", (1,)), ("a", 1),
+            ("a", (1, 1))]
         for thing in wrong + ANY_OBJECTS:
             if thing != ROW or type(thing[1][0]) is bool:
                 self.both((NoRow, {}), book, question, prices, None, thing, ROW)
@@ -254,7 +255,8 @@ class JudgeTest(unittest.TestCase):
         ways = references.ways(book, question)
         claims = [(kind, pair) for kind in surveys.KINDS[:4] for pair in pairs]
         claims += [(kind, *rows) for kind in surveys.KINDS[4:] for rows in two_rows(pairs)[:6]]
-        sets = [rows for rows in surveys.all_sets(pairs[:5]) if not references.ways(references.lost(book, rows), question)]
+        sets = [rows for rows in surveys.all_sets(pairs[:5]) if not references.ways(references.lost(book, rows),
+            question)]
         for claim in claims:
             for rows in sets:
                 amounts = tuple((way, source.randint(1, 3)) for way in ways if source.random() < 0.7)

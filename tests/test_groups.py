@@ -182,7 +182,8 @@ class TogetherTest(unittest.TestCase):
         self.assertEqual(raised(all_gone, six, question, None, ()), limit(6))
         self.assertEqual(raised(all_gone, six, question, None, None), (NoAnswer, {}))
         self.assertEqual(raised(all_gone, BOOK, QUESTION, None, ((2,),)), (NoPrice, {}))
-        self.assertEqual(raised(all_gone, LINKED_BOOK, LINKED, {**dict.fromkeys("rstu", 1), "all": None}, ((4,),)), (NoPrice, {}))
+        self.assertEqual(raised(all_gone, LINKED_BOOK, LINKED, {**dict.fromkeys("rstu", 1), "all": None}, ((4,),)),
+            (NoPrice, {}))
 
 
 class AllAndAnyTest(unittest.TestCase):
@@ -279,7 +280,8 @@ class AllAndAnyTest(unittest.TestCase):
             self.assertIs(shows_any(BOOK, QUESTION, PRICES, some, (told[0], thing)), False)
             self.assertIs(shows_any(BOOK, QUESTION, PRICES, some, (told[0], (told[1][0], ((2,), thing)))), False)
             self.assertIs(
-                shows_any(BOOK, QUESTION, PRICES, some, (told[0], ((thing, told[1][0][1]), told[1][1]))), references.same(thing, (1,))
+                shows_any(BOOK, QUESTION, PRICES, some, (told[0], ((thing, told[1][0][1]), told[1][1]))),
+                references.same(thing, (1,))
             )
 
     def test_arguments_are_kept(self):
@@ -389,7 +391,8 @@ class SparingTest(unittest.TestCase):
         case = BOOK, QUESTION, {"a": None, "b": 7}, (1,), ((2,),)
         told = sparing(*case)
         for amount, right in ((7, True), (10 ** 40 - 1, True), (10 ** 40, False), (6, False)):
-            papers = tuple((rows, (((5,), amount),)) if rows == (("b", (5,)),) else (rows, paper) for rows, paper in told[4])
+            papers = tuple((rows, (((5,), amount),)) if rows == (("b", (5,)),) else (rows, paper) for rows,
+                paper in told[4])
             self.assertIs(shows_spared(*case, told[:4] + (papers,)), right, amount)
 
     def test_no_line(self):
@@ -453,7 +456,8 @@ class ErrorsTest(unittest.TestCase):
             self.assertEqual(raised(function, *arguments), limit(2000))
 
     def test_no_answer(self):
-        wrong = [(1,), ((3,),), ((2,), (1,)), ((1,), (1,)), ((1, 2),), ([1],), [(1,)], ((True,),), (None,), ((1,), None), ("1",)]
+        wrong = [(1,), ((3,),), ((2,), (1,)), ((1,), (1,)), ((1, 2),), ([1],), [(1,)], ((True,),), (None,),
+            ((1,), None), ("1",)]
         for thing in wrong + [thing for thing in ANY_OBJECTS if thing not in ((), ((1,),))]:
             for function, arguments in self.all_of(BOOK, QUESTION, PRICES, thing):
                 self.assertEqual(raised(function, *arguments), (NoAnswer, {}), (function, shown(thing)))

@@ -254,7 +254,8 @@ WIDTHS = {"a": 1, "b": 2, "c": 1, "d": 2, "e": 2}
 class LongHistoryTest(History):
     def some_deed(self, source):
         model = self.model
-        word = source.choice(("come",) * 8 + ("go",) * 5 + ("pin", "pin", "unpin", "unpin", "keep", "keep", "forget", "move", "move", "still",
+        word = source.choice(("come",) * 8 + ("go",) * 5 + ("pin", "pin", "unpin", "unpin", "keep", "keep", "forget",
+            "move", "move", "still",
                                              "hold", "hold", "hold", "hold", "drop", "set_table"))
         table = source.choice("abcde")
         row = tuple(source.randrange(2) for _ in range(WIDTHS[table]))
@@ -299,8 +300,10 @@ class LongHistoryTest(History):
                     self.do(*self.some_deed(source))
             kinds |= self.kinds
         told = {kind[0] for kind in kinds if len(kind) == 1 or {*kind} & {"cut", "orders", "roof"}}
-        self.assertGreaterEqual(told, {"set_table", "come", "go", "pin", "unpin", "keep", "forget", "move", "still", "hold", "drop"})
-        self.assertGreaterEqual(kinds, {("judged", True), ("judged", False), ("hold", "NoRow"), ("hold", "NoPrice"), ("move", "NoLine")})
+        self.assertGreaterEqual(told, {"set_table", "come", "go", "pin", "unpin", "keep", "forget", "move", "still",
+            "hold", "drop"})
+        self.assertGreaterEqual(kinds, {("judged", True), ("judged", False), ("hold", "NoRow"), ("hold", "NoPrice"),
+            ("move", "NoLine")})
 
     def test_the_same_in_another_order(self):
         """What is told depends on the rows, pins, prices and moving prices alone."""
@@ -549,7 +552,8 @@ class HeldTest(History):
 class RefusedTest(History):
     def unchanged(self, error, name, *arguments):
         before = self.all_told()
-        self.assertEqual(raised(getattr(self.keeper, name), *arguments), error, (name, [shown(each) for each in arguments]))
+        self.assertEqual(raised(getattr(self.keeper, name), *arguments), error,
+            (name, [shown(each) for each in arguments]))
         self.assertEqual(self.all_told(), before)
 
     def all_told(self):
@@ -561,7 +565,8 @@ class RefusedTest(History):
     def test_as_a_watch(self):
         self.begin()
         watch = Watch()
-        deeds = [("set_table", "a", 1), ("come", "a", (1,)), ("pin", "a", (1,)), ("keep", "q", ((), (("a", ("x",)),)), {"a": 1})]
+        deeds = [("set_table", "a", 1), ("come", "a", (1,)), ("pin", "a", (1,)),
+            ("keep", "q", ((), (("a", ("x",)),)), {"a": 1})]
         for deed in deeds:
             getattr(watch, deed[0])(*deed[1:])
             self.do(*deed)
@@ -569,7 +574,8 @@ class RefusedTest(History):
             for name, arguments in (
                 ("set_table", (thing, 1)), ("set_table", ("b", thing)), ("come", (thing, (1,))), ("come", ("a", thing)),
                 ("go", (thing, (1,))), ("go", ("a", thing)), ("pin", ("a", thing)), ("unpin", ("a", thing)),
-                ("keep", (thing, QUESTION, {})), ("keep", ("p", thing, {})), ("keep", ("p", ((), (("a", ("x",)),)), thing)),
+                ("keep", (thing, QUESTION, {})), ("keep", ("p", thing, {})),
+                ("keep", ("p", ((), (("a", ("x",)),)), thing)),
                 ("forget", (thing,)), ("back", (thing,)), ("told", (thing,)),
             ):
                 watched = Watch()
@@ -580,7 +586,8 @@ class RefusedTest(History):
                     self.unchanged(error, name, *arguments)
         self.assertEqual(raised(self.keeper.set_table, "a", 0), (NoTable, {}))
         for thing in [thing for thing in ANY_OBJECTS if thing != "q"]:
-            for name, arguments in (("move", (thing, None)), ("still", (thing,)), ("told", (thing,)), ("orders_of", (thing,)),
+            for name, arguments in (("move", (thing, None)), ("still", (thing,)), ("told", (thing,)),
+                    ("orders_of", (thing,)),
                                     ("roof_of", (thing,)), ("hold", (thing, None))):
                 self.unchanged((NoQuestion, {}), name, *arguments)
 
@@ -659,11 +666,14 @@ class RefusedTest(History):
 
     def test_back(self):
         self.begin()
-        for deed in (("set_table", "a", 1), ("set_table", "b", 2), ("come", "a", (1,)), ("keep", "q", QUESTION, {"a": 1, "b": 1}),
-                     ("move", "q", {"a": (1, 1), "b": (0, 1)}), ("hold", "q", "roof"), ("come", "b", (1, 1)), ("still", "q"),
+        for deed in (("set_table", "a", 1), ("set_table", "b", 2), ("come", "a", (1,)),
+                ("keep", "q", QUESTION, {"a": 1, "b": 1}),
+                     ("move", "q", {"a": (1, 1), "b": (0, 1)}), ("hold", "q", "roof"), ("come", "b", (1, 1)),
+                     ("still", "q"),
                      ("drop", 0), ("forget", "q")):
             self.do(*deed)
-        for thing in [thing for thing in ANY_OBJECTS if not isinstance(thing, int) or isinstance(thing, bool)] + [-1, 11, 10 ** 40]:
+        for thing in [thing for thing in ANY_OBJECTS if not isinstance(thing, int) or isinstance(thing, bool)] + [-1,
+                11, 10 ** 40]:
             self.unchanged((NoMark, {}), "back", thing)
         for number in (10, 10, 9, 7, 4, 4, 1, 0, 0):
             self.back(number)
@@ -672,7 +682,8 @@ class RefusedTest(History):
     def test_what_is_returned_is_new(self):
         self.begin()
         for deed in (("set_table", "a", 1), ("set_table", "b", 2), ("come", "a", (1,)), ("come", "b", (1, 1)),
-                     ("keep", "q", QUESTION, {"a": 1, "b": 1}), ("move", "q", {"a": (1, 1), "b": (0, 1)}), ("hold", "q", "roof")):
+                     ("keep", "q", QUESTION, {"a": 1, "b": 1}), ("move", "q", {"a": (1, 1), "b": (0, 1)}),
+                     ("hold", "q", "roof")):
             self.do(*deed)
         keeper = self.keeper
         keeper.book_now().clear()

@@ -16,7 +16,8 @@ from oddities import ANY_OBJECTS, NEVER_RIGHT, shown
 
 ONES, PAIRS = tuple((k,) for k in (1, 2, 3)), ((1, 1), (1, 2), (2, 1), (2, 3), (3, 4))
 BOOK = {
-    "a": (1, ONES), "m": (2, PAIRS), "b": (1, ONES + ((4,),)), "n": (2, ((1, 1), (2, 2), (3, 3), (4, 1))), "c": (1, ONES),
+    "a": (1, ONES), "m": (2, PAIRS), "b": (1, ONES + ((4,),)), "n": (2, ((1, 1), (2, 2), (3, 3), (4, 1))),
+    "c": (1, ONES),
 }
 QUESTION = ((), (("a", ("x",)), ("m", ("x", "y")), ("b", ("y",)), ("n", ("y", "z")), ("c", ("z",))))
 PRICES = {"a": 1, "m": None, "b": 2, "n": None, "c": 1}
@@ -32,7 +33,8 @@ def net(tables, needs):
     """Tables a, m, b as named: a step for each of needs leads from row k of a to row k of b, behind those it needs."""
     a, m, b = tables
     rows = tuple((k,) for k in range(len(needs)))
-    joined = sorted({(k, k) for k in range(len(needs))} | {(k, other) for k, some in enumerate(needs) for other in some})
+    joined = sorted({(k, k) for k in range(len(needs))} | {(k, other) for k,
+        some in enumerate(needs) for other in some})
     return {a: (1, rows), m: (2, tuple(joined)), b: (1, rows)}
 
 
@@ -164,7 +166,8 @@ class OrderTest(unittest.TestCase):
         order = Order((self.A,), (step,))
         self.assertTrue(order == Order((self.A,), (step,)))
         self.assertFalse(order != Order((self.A,), (step,)))
-        for other in (Order((self.B,), (step,)), Order((self.A,), ()), Order((self.A,), (step, step)), None, (), order.plain()):
+        for other in (Order((self.B,), (step,)), Order((self.A,), ()), Order((self.A,), (step, step)), None, (),
+                order.plain()):
             self.assertFalse(order == other)
             self.assertTrue(order != other)
         for thing in ANY_OBJECTS:
@@ -260,7 +263,8 @@ class AllCutsTest(unittest.TestCase):
         self.assertEqual([len(order) for order in self.check(book, question, {**prices, "c": 3, "d": 3}, None)], [6, 2])
         self.assertEqual([len(order) for order in self.check(book, question, {**prices, "c": 2, "d": 3}, ())], [1])
         self.assertEqual([len(order) for order in self.check(book, question, {**prices, "c": 4, "d": 4}, ())], [6])
-        self.assertEqual([len(order) for order in self.check(book, question, {**prices, "c": None, "d": None}, ())], [6])
+        self.assertEqual([len(order) for order in self.check(book, question, {**prices, "c": None, "d": None}, ())],
+            [6])
 
     def test_a_way_that_stands_and_no_way(self):
         self.assertEqual(orders(BOOK, QUESTION, dict.fromkeys("ambnc"), None), [])
@@ -516,7 +520,8 @@ class JudgeTest(unittest.TestCase):
         papers = papers_of(case, (a,), (step,))
         self.assertTrue(self.agree(case, ((a,), (step,), (((0,), 1),), papers)))
         empty = (), (), ()
-        for steps in ((step, empty), (empty, step), (((a,), (b,), (0,)),), (((a,), (b,), (-1,)),), (step, ((), (), (0, 0)))):
+        for steps in ((step, empty), (empty, step), (((a,), (b,), (0,)),), (((a,), (b,), (-1,)),),
+                (step, ((), (), (0, 0)))):
             for some in (papers, papers_of(case, (a,), steps)):
                 self.assertFalse(self.agree(case, ((a,), steps, (((0,), 1),), some)), steps)
         for steps in ((((a,), (), ()),), (((), (b,), ()),)):
@@ -537,7 +542,8 @@ class JudgeTest(unittest.TestCase):
         a, b, c, d = [(table, (1,)) for table in "abcd"]
         case = book, question, dict.fromkeys("abcd", 1), ()
         amounts = (((1, 1), 1),)
-        for first, steps in (((a,), (((a,), (c,), ()),)), ((a, c), (((a,), (b,), ()), ((c,), (d,), ()))), ((a,), (((a,), (b, c), ()),))):
+        for first, steps in (((a,), (((a,), (c,), ()),)), ((a, c), (((a,), (b,), ()), ((c,), (d,), ()))),
+                ((a,), (((a,), (b, c), ()),))):
             self.assertIs(shows_order(*case, (first, steps, amounts, ())), False)
         papers = papers_of(case, (a,), (((a,), (b,), ()),))
         self.assertTrue(self.agree(case, ((a,), (((a,), (b,), ()),), amounts, papers)))
@@ -559,7 +565,8 @@ class JudgeTest(unittest.TestCase):
                 step = thing[1][0][:at] + (other,) + thing[1][0][at + 1:]
                 same = other == () and at == 2
                 self.assertIs(
-                    shows_order(BOOK, QUESTION, PRICES, None, (thing[0], (step, *thing[1][1:]), *thing[2:])), same, shown(other)
+                    shows_order(BOOK, QUESTION, PRICES, None, (thing[0], (step, *thing[1][1:]), *thing[2:])), same,
+                    shown(other)
                 )
 
     def test_errors(self):
@@ -583,7 +590,8 @@ class JudgeTest(unittest.TestCase):
         self.assertTrue(self.agree(case, ((r,), (((r,), (s,), ()),), amounts, papers)))
 
     def test_too_many(self):
-        book = {**net("cnd", [()] * 8), **LARGE, "n": (2, tuple((k, k) for k in range(8))), "c": (1, SIXTY[:8]), "d": (1, SIXTY[:8])}
+        book = {**net("cnd", [()] * 8), **LARGE, "n": (2, tuple((k, k) for k in range(8))), "c": (1, SIXTY[:8]),
+            "d": (1, SIXTY[:8])}
         question, prices = ((), net_atoms("cnd", "zw")), net_prices("cnd")
         both = (), net_atoms("cnd", "zw") + (("a", ("x",)), ("b", ("y",)), ("e", ("x", "y")))
         book["e"] = (2, ((0, 0),))
@@ -595,14 +603,16 @@ class JudgeTest(unittest.TestCase):
             amounts = tuple(((k, *end, k), 1) for k in range(8))
             too_many = (TooMany, {"limit": 200})
             for papers in (None, (), 7):
-                self.assertEqual(raised(shows_order, book, asked, cost, None, (first, steps, amounts, papers)), too_many)
+                self.assertEqual(raised(shows_order, book, asked, cost, None, (first, steps, amounts, papers)),
+                    too_many)
             for wrong in (amounts[1:], amounts[::-1], None, tuple((way, 2) for way, _ in amounts)):
                 self.assertIs(shows_order(book, asked, cost, None, (first, steps, wrong, ())), False)
             self.assertIs(shows_order(book, asked, cost, None, (first, steps + steps[:1], amounts, ())), False)
             self.assertIs(shows_order(book, asked, cost, None, (first[1:], steps, amounts, ())), False)
             large = raised(shows_order, book, asked, cost, None, (first, steps[:7], amounts, None))
             self.assertEqual(large, None if asked == question else (TooMany, {"limit": 2000}))
-            self.assertIs(shows_order(book, question, prices, None, (first, steps[:7], amounts, None)), False) if not end else None
+            self.assertIs(shows_order(book, question, prices, None, (first, steps[:7], amounts, None)),
+                False) if not end else None
             self.assertIs(shows_order(book, asked, cost, None, (first, steps[:7], amounts[1:], None)), False)
             self.assertEqual(raised(shows_order, book, asked, cost, None, None), None)
 
@@ -629,7 +639,8 @@ class BetweenTest(unittest.TestCase):
                 tables = tuple(table for table in surveys.open_tables(question, prices, pinned) if table in piece)
                 pairs = [pair for pair in surveys.open_pairs(book, question, prices, pinned) if pair[0] in piece][:7]
                 cuts = [
-                    rows for rows in surveys.all_sets(pairs) if rows and not references.ways(references.lost(book, rows), part)
+                    rows for rows in surveys.all_sets(pairs) if rows and not references.ways(references.lost(book,
+                    rows), part)
                 ]
                 line = references.lines(question, tables)[0]
                 for one, other in source.sample(list(itertools.product(cuts, cuts)), min(25, len(cuts) ** 2)):

@@ -21,8 +21,10 @@ FORTY = 10 ** 40 - 1
 BIG = 10 ** 30
 MOST = 10 ** 13
 WORDS = [
-    "claim", "each", "not", "never", "both", "with", "none", "some", "and", "price", "row", "way", "order", "step", "leave",
-    "come", "least", "roof", "from", "end", "stands", "blame", "spared", "stay", "set", "a", "B", "0", "1", "7", "01", "-1",
+    "claim", "each", "not", "never", "both", "with", "none", "some", "and", "price", "row", "way", "order", "step",
+    "leave",
+    "come", "least", "roof", "from", "end", "stands", "blame", "spared", "stay", "set", "a", "B", "0", "1", "7", "01",
+    "-1",
     str(BIG), str(BIG + 1), str(FORTY), str(FORTY + 1), "", "\n",
 ]
 
@@ -81,7 +83,8 @@ GRAMMARS = {
     "order": {
         "begin": {"order": ([], "rows")},
         "rows": {"row": (ROW, "rows"), "step": (FREE, "leaves"), "least": ([], "amounts")},
-        "leaves": {"leave": (ROW, "leaves"), "come": (ROW, "comes"), "step": (FREE, "leaves"), "least": ([], "amounts")},
+        "leaves": {"leave": (ROW, "leaves"), "come": (ROW, "comes"), "step": (FREE, "leaves"),
+        "least": ([], "amounts")},
         "comes": {"come": (ROW, "comes"), "step": (FREE, "leaves"), "least": ([], "amounts")},
         "amounts": {"way": (WAY, "amounts"), **CLAIM},
         "price": {"price": ([("one", PRICE)], "shown")},
@@ -91,7 +94,8 @@ GRAMMARS = {
     "roof": {
         "begin": {"roof": ([], "froms"), "stands": (FREE, "done")},
         "froms": {"from": ([("one", PRICE)] * 4, "rows"), "end": ([], "last")},
-        "rows": {"row": (ROW, "rows"), "way": (WAY, "ways"), "from": ([("one", PRICE)] * 4, "rows"), "end": ([], "last")},
+        "rows": {"row": (ROW, "rows"), "way": (WAY, "ways"), "from": ([("one", PRICE)] * 4, "rows"),
+        "end": ([], "last")},
         "ways": {"way": (WAY, "ways"), "from": ([("one", PRICE)] * 4, "rows"), "end": ([], "last")},
         "last": {"way": (WAY, "last")}, "done": {}, "ends": ("last", "done"),
     },
@@ -154,7 +158,8 @@ class TextTest(unittest.TestCase):
 
 class InterfaceTest(unittest.TestCase):
     def test_functions_are_defined_in_this_file(self):
-        told = (format_claim, format_moving, format_order, format_roof, format_sets, judges_claim, judges_order, judges_roof,
+        told = (format_claim, format_moving, format_order, format_roof, format_sets, judges_claim, judges_order,
+            judges_roof,
                 parse_claim, parse_moving, parse_order, parse_roof, parse_sets)
         self.assertEqual({each.__module__ for each in told}, {papers.__name__})
 
@@ -174,8 +179,10 @@ class InterfaceTest(unittest.TestCase):
 class MovingTest(TextTest):
     def test_right_texts(self):
         for text, moving in (
-            ("", {}), ("   ", {}), ("a 3 0, b firm", {"a": (3, 0), "b": None}), (" a   3 0 ,b    firm ", {"a": (3, 0), "b": None}),
-            (f"z 0 {MOST},a {MOST} 0", {"z": (0, MOST), "a": (MOST, 0)}), ("firm firm,b1 0 1", {"firm": None, "b1": (0, 1)}),
+            ("", {}), ("   ", {}), ("a 3 0, b firm", {"a": (3, 0), "b": None}),
+            (" a   3 0 ,b    firm ", {"a": (3, 0), "b": None}),
+            (f"z 0 {MOST},a {MOST} 0", {"z": (0, MOST), "a": (MOST, 0)}),
+            ("firm firm,b1 0 1", {"firm": None, "b1": (0, 1)}),
             ("a 1 1,b 1 1", {"a": (1, 1), "b": (1, 1)}),
         ):
             self.assertEqual(parse_moving(text), moving)
@@ -188,11 +195,16 @@ class MovingTest(TextTest):
 
     def test_problems(self):
         for text, column in (
-            (",", 1), ("1 2 3", 1), ("A 1 1", 1), ("abcdefghi 1 1", 1), ("a", 2), ("a ", 3), ("a,", 2), ("a 1", 4), ("a 1 ", 5),
-            ("a 1,", 4), ("a 1, b 1 1", 4), ("a 1 1,", 7), ("a 1 1, ", 8), ("a 1 1 1", 7), ("a 1 1 b 1 1", 7), ("a firm 1", 8),
-            ("a firm firm", 8), ("a 1 firm", 5), ("a 0 0", 5), ("a 0 0,b 1 1", 5), ("a 1 1, a 1 1", 8), ("a 1 1, b 1 1, a firm", 15),
-            ("a 01 1", 3), ("a 1 01", 5), ("a -1 1", 3), ("a 1 -1", 5), (f"a {MOST + 1} 1", 3), (f"a 1 {MOST + 1}", 5), ("a x 1", 3),
-            ("a 1 x", 5), ("a 1.1", 4), ("a 1 1\nb 1 1", 6), ("a 1;1", 4), ("a(1 1)", 2), ("a b 1 1", 3), ("firm 1", 7), ("a 00 1", 3),
+            (",", 1), ("1 2 3", 1), ("A 1 1", 1), ("abcdefghi 1 1", 1), ("a", 2), ("a ", 3), ("a,", 2), ("a 1", 4),
+            ("a 1 ", 5),
+            ("a 1,", 4), ("a 1, b 1 1", 4), ("a 1 1,", 7), ("a 1 1, ", 8), ("a 1 1 1", 7), ("a 1 1 b 1 1", 7),
+            ("a firm 1", 8),
+            ("a firm firm", 8), ("a 1 firm", 5), ("a 0 0", 5), ("a 0 0,b 1 1", 5), ("a 1 1, a 1 1", 8),
+            ("a 1 1, b 1 1, a firm", 15),
+            ("a 01 1", 3), ("a 1 01", 5), ("a -1 1", 3), ("a 1 -1", 5), (f"a {MOST + 1} 1", 3), (f"a 1 {MOST + 1}", 5),
+            ("a x 1", 3),
+            ("a 1 x", 5), ("a 1.1", 4), ("a 1 1\nb 1 1", 6), ("a 1;1", 4), ("a(1 1)", 2), ("a b 1 1", 3),
+            ("firm 1", 7), ("a 00 1", 3),
         ):
             self.wrong(parse_moving, text, 1, column)
 
@@ -219,27 +231,38 @@ class ClaimTest(TextTest):
         for kind in surveys.KINDS:
             rows = (("a", (1, 2)), ("b", (3,)))[:1 if kind in surveys.KINDS[:4] else 2]
             named = "a 1 2" if len(rows) == 1 else "a 1 2 and b 3"
-            self.assertEqual(format_claim((kind, *rows), paper), f"claim {kind} {named}\nprice 3\nrow a 1\nway 2\nway 1 4 5")
+            self.assertEqual(format_claim((kind, *rows), paper),
+                f"claim {kind} {named}\nprice 3\nrow a 1\nway 2\nway 1 4 5")
 
     def test_problems(self):
         for text, line, column in (
-            ("", 2, 1), ("\n\n", 4, 1), ("price 1", 1, 1), ("  row a 1", 1, 3), ("claim", 1, 6), ("claim ", 1, 7), ("claim all a 1", 1, 7),
-            ("claim not", 1, 10), ("claim not both a 1", 1, 11), ("claim never each a 1", 1, 13), ("claim not each", 1, 15),
-            ("claim not  a 1", 1, 12), ("claim each", 1, 11), ("claim each A 1", 1, 12), ("claim each a", 1, 13), ("claim each a ", 1, 14),
-            ("claim each a x", 1, 14), ("claim each a 1 and b 1", 1, 16), (f"claim each a {BIG + 1}", 1, 14), ("claim both a 1", 1, 15),
-            ("claim both a 1 ", 1, 16), ("claim both a and b 1", 1, 14), ("claim both a 1 with b 1", 1, 16), ("claim both a 1 and", 1, 19),
+            ("", 2, 1), ("\n\n", 4, 1), ("price 1", 1, 1), ("  row a 1", 1, 3), ("claim", 1, 6), ("claim ", 1, 7),
+            ("claim all a 1", 1, 7),
+            ("claim not", 1, 10), ("claim not both a 1", 1, 11), ("claim never each a 1", 1, 13),
+            ("claim not each", 1, 15),
+            ("claim not  a 1", 1, 12), ("claim each", 1, 11), ("claim each A 1", 1, 12), ("claim each a", 1, 13),
+            ("claim each a ", 1, 14),
+            ("claim each a x", 1, 14), ("claim each a 1 and b 1", 1, 16), (f"claim each a {BIG + 1}", 1, 14),
+            ("claim both a 1", 1, 15),
+            ("claim both a 1 ", 1, 16), ("claim both a and b 1", 1, 14), ("claim both a 1 with b 1", 1, 16),
+            ("claim both a 1 and", 1, 19),
             ("claim both a 1 and b", 1, 21), ("claim both a 1 and 1", 1, 20), ("claim both a 1 and b 1 and c 1", 1, 24),
-            ("claim each a 1", 2, 1), ("claim each a 1\n", 3, 1), ("claim each a 1\n\nrow a 1", 3, 1), ("claim each a 1\nprice", 2, 6),
-            ("claim each a 1\nprice 1 1", 2, 9), ("claim each a 1\nprice 01", 2, 7), (f"claim each a 1\nprice {FORTY + 1}", 2, 7),
+            ("claim each a 1", 2, 1), ("claim each a 1\n", 3, 1), ("claim each a 1\n\nrow a 1", 3, 1),
+            ("claim each a 1\nprice", 2, 6),
+            ("claim each a 1\nprice 1 1", 2, 9), ("claim each a 1\nprice 01", 2, 7),
+            (f"claim each a 1\nprice {FORTY + 1}", 2, 7),
             ("claim each a 1\nprice 1\nway 0 1", 3, 5), ("claim each a 1\nprice 1\nway 1\nrow a 1", 4, 1),
-            ("claim each a 1\nprice 1\nprice 1", 3, 1), ("claim each a 1\nprice 1\nclaim each a 1", 3, 1), ("claim each a 1 \nprice 1\nrow a", 3, 6),
-            ("claim never  with a 1", 1, 14), ("claim with a 1 and and b", 1, 24), ("claim each 1", 1, 12), ("Claim each a 1", 1, 1),
+            ("claim each a 1\nprice 1\nprice 1", 3, 1), ("claim each a 1\nprice 1\nclaim each a 1", 3, 1),
+            ("claim each a 1 \nprice 1\nrow a", 3, 6),
+            ("claim never  with a 1", 1, 14), ("claim with a 1 and and b", 1, 24), ("claim each 1", 1, 12),
+            ("Claim each a 1", 1, 1),
         ):
             self.wrong(parse_claim, text, line, column)
             self.assertIs(self.agree(parse_claim, "claim", text), False)
 
     def test_changed_anywhere(self):
-        for text in ("claim never both a 1 2 and b 0\nprice 3\nrow a 1\nrow c 2 2\nway 1 2\nway 3", "claim not each a 7\nprice 1"):
+        for text in ("claim never both a 1 2 and b 0\nprice 3\nrow a 1\nrow c 2 2\nway 1 2\nway 3",
+                "claim not each a 7\nprice 1"):
             told = [self.agree(parse_claim, "claim", other) for other in changed(text)]
             self.assertGreater(sum(told), 20)
 
@@ -253,7 +276,8 @@ class OrderTest(TextTest):
         (("a", (1,)), ("b", (2, 2))),
         (((("a", (1,)),), (("c", (3,)), ("c", (4,))), ()), ((("b", (2, 2)),), (), (0,)), ((), (("d", (1,)),), (0, 1))),
         (((1,), 2), ((), 1)),
-        ((("never both", ("c", (3,)), ("a", (1,))), (3, (("a", (1,)),), (((1,), 1),))), (("none", ("d", (5,))), (0, (), ()))),
+        ((("never both", ("c", (3,)), ("a", (1,))), (3, (("a", (1,)),), (((1,), 1),))),
+        (("none", ("d", (5,))), (0, (), ()))),
     )
 
     def test_right_texts(self):
@@ -268,12 +292,18 @@ class OrderTest(TextTest):
 
     def test_problems(self):
         for text, line, column in (
-            ("", 2, 1), ("least", 1, 1), ("order 1", 1, 7), ("order", 2, 1), ("order\n", 3, 1), ("order\nrow a", 2, 6), ("order\nrow a 1", 3, 1),
-            ("order\nleave a 1", 2, 1), ("order\nstep x", 2, 6), ("order\nstep 01", 2, 6), (f"order\nstep 1 {BIG + 1}", 2, 8),
-            ("order\nstep\ncome a 1\nleave a 1", 4, 1), ("order\nstep\nrow a 1", 3, 1), ("order\nstep\nleave a", 3, 8), ("order\nstep\ncome A 1", 3, 6),
-            ("order\nstep\nleave a 1\n", 5, 1), ("order\nleast 1", 2, 7), ("order\nleast\nway", 3, 4), ("order\nleast\nrow a 1", 3, 1),
-            ("order\nleast\nstep", 3, 1), ("order\nleast\nclaim each a 1", 4, 1), ("order\nleast\nclaim each a 1\nway 1", 4, 1),
-            ("order\nleast\nclaim each a 1\nprice 1\nleast", 5, 1), ("order\nleast\nway 1\nclaim both a 1", 4, 15), ("order\norder", 2, 1),
+            ("", 2, 1), ("least", 1, 1), ("order 1", 1, 7), ("order", 2, 1), ("order\n", 3, 1), ("order\nrow a", 2, 6),
+            ("order\nrow a 1", 3, 1),
+            ("order\nleave a 1", 2, 1), ("order\nstep x", 2, 6), ("order\nstep 01", 2, 6),
+            (f"order\nstep 1 {BIG + 1}", 2, 8),
+            ("order\nstep\ncome a 1\nleave a 1", 4, 1), ("order\nstep\nrow a 1", 3, 1), ("order\nstep\nleave a", 3, 8),
+            ("order\nstep\ncome A 1", 3, 6),
+            ("order\nstep\nleave a 1\n", 5, 1), ("order\nleast 1", 2, 7), ("order\nleast\nway", 3, 4),
+            ("order\nleast\nrow a 1", 3, 1),
+            ("order\nleast\nstep", 3, 1), ("order\nleast\nclaim each a 1", 4, 1),
+            ("order\nleast\nclaim each a 1\nway 1", 4, 1),
+            ("order\nleast\nclaim each a 1\nprice 1\nleast", 5, 1), ("order\nleast\nway 1\nclaim both a 1", 4, 15),
+            ("order\norder", 2, 1),
             ("order\nleast\nclaim each a 1\nprice 1\nway 1\nrow a 1", 6, 1),
         ):
             self.wrong(parse_order, text, line, column)
@@ -286,13 +316,15 @@ class OrderTest(TextTest):
 class RoofTest(TextTest):
     TEXT = "roof\nfrom 0 1 2 5\nrow a 1\nrow b 2 2\nway 2 1\nfrom 3 7 9 0\nend\nway 5 1\nway 1"
     TOLD = (
-        "roof", (((0, 1), 2, 5, (("a", (1,)), ("b", (2, 2)))), ((3, 7), 9, 0, ())), ((((1,), 2),), (), (((1,), 5), ((), 1)))
+        "roof", (((0, 1), 2, 5, (("a", (1,)), ("b", (2, 2)))), ((3, 7), 9, 0, ())),
+        ((((1,), 2),), (), (((1,), 5), ((), 1)))
     )
 
     def test_right_texts(self):
         for text, told in (
             ("stands", ("stands", ())), (f"\n stands 1 {BIG} \n", ("stands", (1, BIG))), (self.TEXT, self.TOLD),
-            (f"roof\nfrom {FORTY} 0 {FORTY} 0\nend", ("roof", (((FORTY, 0), FORTY, 0, ()),), ((), ()))), ("roof\nend", ("roof", (), ((),))),
+            (f"roof\nfrom {FORTY} 0 {FORTY} 0\nend", ("roof", (((FORTY, 0), FORTY, 0, ()),), ((), ()))),
+            ("roof\nend", ("roof", (), ((),))),
         ):
             self.assertEqual(parse_roof(text), told)
             self.assertEqual(parse_roof(format_roof(told)), told)
@@ -301,11 +333,16 @@ class RoofTest(TextTest):
 
     def test_problems(self):
         for text, line, column in (
-            ("", 2, 1), ("end", 1, 1), ("roof 1", 1, 6), ("roof", 2, 1), ("roof\nrow a 1", 2, 1), ("roof\nfrom", 2, 5), ("roof\nfrom 1 2 3", 2, 11),
-            ("roof\nfrom 1 2 3 ", 2, 12), ("roof\nfrom 1 2 3 4 5", 2, 14), ("roof\nfrom 1 2 3 x", 2, 12), (f"roof\nfrom {FORTY + 1} 1 1 1", 2, 6),
-            ("roof\nfrom 0 01 1 1", 2, 8), ("roof\nfrom 1 2 3 4", 3, 1), ("roof\nfrom 1 2 3 4\nway 1\nrow a 1", 4, 1), ("roof\nend 1", 2, 5),
-            ("roof\nend\nfrom 1 2 3 4", 3, 1), ("roof\nend\nrow a 1", 3, 1), ("roof\nend\nend", 3, 1), ("stands x", 1, 8), ("stands\nway 1", 2, 1),
-            ("stands 1\nstands 1", 2, 1), ("stands\nroof", 2, 1), ("roof\nstands", 2, 1), ("cut 1", 1, 1), ("roof\nfrom 0 1 2 3\nrow a 1\nend\nway", 5, 4),
+            ("", 2, 1), ("end", 1, 1), ("roof 1", 1, 6), ("roof", 2, 1), ("roof\nrow a 1", 2, 1), ("roof\nfrom", 2, 5),
+            ("roof\nfrom 1 2 3", 2, 11),
+            ("roof\nfrom 1 2 3 ", 2, 12), ("roof\nfrom 1 2 3 4 5", 2, 14), ("roof\nfrom 1 2 3 x", 2, 12),
+            (f"roof\nfrom {FORTY + 1} 1 1 1", 2, 6),
+            ("roof\nfrom 0 01 1 1", 2, 8), ("roof\nfrom 1 2 3 4", 3, 1), ("roof\nfrom 1 2 3 4\nway 1\nrow a 1", 4, 1),
+            ("roof\nend 1", 2, 5),
+            ("roof\nend\nfrom 1 2 3 4", 3, 1), ("roof\nend\nrow a 1", 3, 1), ("roof\nend\nend", 3, 1),
+            ("stands x", 1, 8), ("stands\nway 1", 2, 1),
+            ("stands 1\nstands 1", 2, 1), ("stands\nroof", 2, 1), ("roof\nstands", 2, 1), ("cut 1", 1, 1),
+            ("roof\nfrom 0 1 2 3\nrow a 1\nend\nway", 5, 4),
         ):
             self.wrong(parse_roof, text, line, column)
             self.assertIs(self.agree(parse_roof, "roof", text), False)
@@ -333,9 +370,11 @@ class SetsTest(TextTest):
 
     def test_stands_and_ways_are_read_in_either(self):
         for text, told in (
-            ("none\nset\nway 1 2", ("none", (((), (((2,), 1),)),))), ("none\nset\nrow a 1", ("none", (((self.A,), ()),))),
+            ("none\nset\nway 1 2", ("none", (((), (((2,), 1),)),))), ("none\nset\nrow a 1",
+            ("none", (((self.A,), ()),))),
             ("blame 1\nstay 1\nset\nstands 4 5", ("blame", 1, (), (1,), (((), (4, 5)),))),
-            ("spared 1\nset\nrow a 1\nstands 1\nset\nway 2 1", ("spared", 1, (), (), (((self.A,), (1,)), ((), (((1,), 2),))))),
+            ("spared 1\nset\nrow a 1\nstands 1\nset\nway 2 1", ("spared", 1, (), (),
+            (((self.A,), (1,)), ((), (((1,), 2),))))),
             (f"spared {FORTY}\nset\nstands {BIG}", ("spared", FORTY, (), (), (((), (BIG,)),))),
         ):
             self.assertEqual(parse_sets(text), told)
@@ -343,12 +382,18 @@ class SetsTest(TextTest):
 
     def test_problems(self):
         for text, line, column in (
-            ("", 2, 1), ("set", 1, 1), ("stands 1", 1, 1), ("none 1", 1, 6), ("none\nrow a 1", 2, 1), ("none\nstay", 2, 1), ("blame", 1, 6),
-            ("blame x", 1, 7), ("blame 1 1", 1, 9), (f"blame {FORTY + 1}", 1, 7), ("blame 1", 2, 1), ("blame 1\nset", 2, 1),
-            ("blame 1\nstay 1\nstay 2", 3, 1), ("blame 1\nstay x", 2, 6), ("blame 1\nstay 1\nrow a 1", 3, 1), ("blame 1\nrow a", 2, 6),
-            ("spared -1", 1, 8), ("spared 1\nstay 1\nrow a 1", 3, 1), ("spared 1\nway 1", 2, 1), ("none\nset 1", 2, 5), ("none\nset\nstands x", 3, 8),
-            ("none\nset\nstands\nway 1", 4, 1), ("none\nset\nstands\nstands", 4, 1), ("none\nset\nway 1\nstands", 4, 1), ("none\nset\nway 1\nrow a 1", 4, 1),
-            ("none\nset\nstands 1\nrow a 1", 4, 1), ("none\nset\nway 0", 3, 5), ("none\nset\nrow a", 3, 6), ("none\nnone", 2, 1), ("Blame 1", 1, 1),
+            ("", 2, 1), ("set", 1, 1), ("stands 1", 1, 1), ("none 1", 1, 6), ("none\nrow a 1", 2, 1),
+            ("none\nstay", 2, 1), ("blame", 1, 6),
+            ("blame x", 1, 7), ("blame 1 1", 1, 9), (f"blame {FORTY + 1}", 1, 7), ("blame 1", 2, 1),
+            ("blame 1\nset", 2, 1),
+            ("blame 1\nstay 1\nstay 2", 3, 1), ("blame 1\nstay x", 2, 6), ("blame 1\nstay 1\nrow a 1", 3, 1),
+            ("blame 1\nrow a", 2, 6),
+            ("spared -1", 1, 8), ("spared 1\nstay 1\nrow a 1", 3, 1), ("spared 1\nway 1", 2, 1), ("none\nset 1", 2, 5),
+            ("none\nset\nstands x", 3, 8),
+            ("none\nset\nstands\nway 1", 4, 1), ("none\nset\nstands\nstands", 4, 1),
+            ("none\nset\nway 1\nstands", 4, 1), ("none\nset\nway 1\nrow a 1", 4, 1),
+            ("none\nset\nstands 1\nrow a 1", 4, 1), ("none\nset\nway 0", 3, 5), ("none\nset\nrow a", 3, 6),
+            ("none\nnone", 2, 1), ("Blame 1", 1, 1),
         ):
             self.wrong(parse_sets, text, line, column)
             self.assertIs(self.agree(parse_sets, "sets", text), False)
@@ -372,7 +417,8 @@ class SetsTest(TextTest):
                 if raised(sparing, book, question, prices, going, staying) is None:
                     told = sparing(book, question, prices, going, staying)
                     self.assertEqual(parse_sets(format_sets(told)), told)
-                    self.assertIs(shows_spared(book, question, prices, going, staying, parse_sets(format_sets(told))), True)
+                    self.assertIs(shows_spared(book, question, prices, going, staying, parse_sets(format_sets(told))),
+                        True)
                     words.add(told[0])
         self.assertEqual(words, {"blame", "none", "spared"})
 
@@ -399,7 +445,8 @@ class JudgesTest(unittest.TestCase):
         right = 0
         some = [(source, *case) for source, *case in surveys.cases(93000, 60)]
         for needs in (chains(2), chains(1, 1), [(1,), (), (1,)]):
-            some.append((references.source_of(len(needs)), net("amb", needs), ((), net_atoms("amb", "xy")), net_prices("amb"), None))
+            some.append((references.source_of(len(needs)), net("amb", needs), ((), net_atoms("amb", "xy")),
+                net_prices("amb"), None))
         for source, *case in some:
             for order in orders(*case):
                 told = order.plain() + order_papers(*case, order)
@@ -435,12 +482,14 @@ class JudgesTest(unittest.TestCase):
 
     def test_texts_that_are_none_and_no_texts(self):
         for judge, prices in self.all_judges({"a": (1, 0), "b": (1, 1)}, {"a": 1, "b": 2}):
-            for text in ANY_OBJECTS + ["", "\n", "cut 1", "claim", "order", "roof", "claim each a 1", "order\nleast", "roof\nend", b"order"]:
+            for text in ANY_OBJECTS + ["", "\n", "cut 1", "claim", "order", "roof", "claim each a 1", "order\nleast",
+                    "roof\nend", b"order"]:
                 self.assertIs(judge(self.BOOK, self.QUESTION, prices, None, text), False, shown(text))
 
     def test_what_they_raise_whatever_the_text_is(self):
         for judge, prices in self.all_judges({"a": (1, 0), "b": (1, 1)}, {"a": 1, "b": 2}):
-            for text in ("", "claim", "claim each a 1\nprice 1\nrow a 1", "order\nleast", "roof\nend", "stands 1", None):
+            for text in ("", "claim", "claim each a 1\nprice 1\nrow a 1", "order\nleast", "roof\nend", "stands 1",
+                    None):
                 for thing in NEVER_RIGHT:
                     self.assertEqual(raised(judge, self.BOOK, thing, None, "?", text), (NoQuestion, {}))
                     self.assertEqual(raised(judge, self.BOOK, self.QUESTION, thing, "?", text), (NoPrice, {}))
@@ -453,7 +502,8 @@ class JudgesTest(unittest.TestCase):
         question = (), (("a", ("x",)), ("b", ("y",)), ("c", ("x", "y")), ("e", ("x",)))
         prices, moving = {"a": None, "b": None, "c": None, "e": 1}, {"a": None, "b": None, "c": None, "e": (1, 0)}
         for judge, cost, text in (
-            (judges_claim, prices, "claim each e 0\nprice 7\nrow e 0"), (judges_order, prices, "order\nrow e 0\nleast\nway 1 0 0"),
+            (judges_claim, prices, "claim each e 0\nprice 7\nrow e 0"),
+            (judges_order, prices, "order\nrow e 0\nleast\nway 1 0 0"),
             (judges_roof, moving, "roof\nfrom 0 1 1 0\nrow e 0\nend"),
         ):
             self.assertEqual(raised(judge, book, question, cost, None, text), (TooMany, {"limit": 2000}))

@@ -2,7 +2,6 @@ import copy
 import unittest
 from fractions import Fraction
 
-import references
 import surveys
 from answercut import roofs
 from answercut.errors import NoLine, NoPrice, NoQuestion, NoRow, TooMany
@@ -29,7 +28,8 @@ def some_fractions(told):
     """Fractions at the beginnings of stretches, between them, ahead of them and far behind."""
     starts = [Fraction(*stretch[0]) for stretch in told[1]]
     between = [(one + other) / 2 for one, other in zip(starts, starts[1:])]
-    return starts + between + [starts[-1] + 1, starts[-1] + 10 ** 20, Fraction(1, 10 ** 20), Fraction(1, 3), Fraction(5, 2)]
+    return starts + between + [starts[-1] + 1, starts[-1] + 10 ** 20, Fraction(1, 10 ** 20), Fraction(1, 3),
+        Fraction(5, 2)]
 
 
 class InterfaceTest(unittest.TestCase):
@@ -58,7 +58,8 @@ class NeedTest(unittest.TestCase):
 
     def test_wrong(self):
         wrong = [
-            (0, 0), (-1, 1), (1, -1), (BIG + 1, 0), (0, BIG + 1), (1,), (1, 1, 1), [1, 1], 1, True, (True, 1), (1, False),
+            (0, 0), (-1, 1), (1, -1), (BIG + 1, 0), (0, BIG + 1), (1,), (1, 1, 1), [1, 1], 1, True, (True, 1),
+            (1, False),
             "11", (1, "1"), (None, 1), (1, None), ((1, 1),), (False, False),
         ]
         for thing in wrong + [thing for thing in NEVER_RIGHT if thing is not None]:
@@ -95,7 +96,8 @@ class RoofTest(unittest.TestCase):
             self.assertEqual(read.price_at(surveys.plain(t)), surveys.plain(price), case)
             over, under = surveys.plain(t)
             self.assertEqual(read.price_at((over * 6, under * 6)), surveys.plain(price))
-            prices = {table: None if pair is None else pair[0] * under + pair[1] * over for table, pair in moving.items()}
+            prices = {table: None if pair is None else pair[0] * under + pair[1] * over for table,
+                pair in moving.items()}
             if 0 not in prices.values() and surveys.has_lines(question, prices, pinned) and max(
                 [price for price in prices.values() if price is not None], default=0
             ) <= 10 ** 30:
@@ -150,7 +152,8 @@ class RoofTest(unittest.TestCase):
     def test_moving_prices_that_are_0_in_a_part(self):
         book = {"a": (1, ((1,), (2,))), "b": (1, ((1,), (2,)))}
         question = (), (("a", ("x",)), ("b", ("x",)))
-        for moving in ({"a": (0, 1), "b": (1, 0)}, {"a": (1, 0), "b": (0, 1)}, {"a": (0, 3), "b": (0, 2)}, {"a": (3, 0), "b": (2, 0)}):
+        for moving in ({"a": (0, 1), "b": (1, 0)}, {"a": (1, 0), "b": (0, 1)}, {"a": (0, 3), "b": (0, 2)},
+                {"a": (3, 0), "b": (2, 0)}):
             for pinned in (None, (), (("a", (1,)),), (("b", (1,)),)):
                 self.check(book, question, moving, pinned)
         told = roof(book, question, {"a": (0, 1), "b": (1, 0)}, None)
@@ -186,7 +189,8 @@ class RoofTest(unittest.TestCase):
     def test_several_pieces(self):
         question = (), (("a", ("x",)), ("b", ("y",)), ("c", ("z",)))
         book = {"a": (1, ((1,),)), "b": (1, ((1,), (2,))), "c": (1, ((1,),))}
-        for moving in ({"a": (1, 1), "b": (1, 0), "c": None}, {"a": (2, 2), "b": (1, 1), "c": (0, 5)}, {"a": None, "b": None, "c": (2, 1)}):
+        for moving in ({"a": (1, 1), "b": (1, 0), "c": None}, {"a": (2, 2), "b": (1, 1), "c": (0, 5)},
+                {"a": None, "b": None, "c": (2, 1)}):
             for pinned in (None, (), (("a", (1,)),) if moving["a"] else ()):
                 self.check(book, question, moving, pinned)
         # Of pieces with the same price the first one is told.
@@ -227,7 +231,8 @@ class ErrorsTest(unittest.TestCase):
                 self.both((NoRow, {}), LARGE, ((), LARGE_ATOMS), moving, thing)
         self.both((NoQuestion, {}), BOOK, (("y",), QUESTION[1]), MOVING, None)
         self.both((NoPrice, {}), BOOK, QUESTION, {"c": 1, "a": 2, "b": 1}, None)
-        for pinned in ((("c", (0, 0)),), (("a", (60,)),), (("a", (1,)), ("a", (0,))), (("a", (1,)),) * 2, (("d", (1,)),), [("a", (1,))]):
+        for pinned in ((("c", (0, 0)),), (("a", (60,)),), (("a", (1,)), ("a", (0,))), (("a", (1,)),) * 2,
+                (("d", (1,)),), [("a", (1,))]):
             self.both((NoRow, {}), LARGE, ((), LARGE_ATOMS), moving, pinned)
             self.both((NoRow, {}), TRIANGLE_BOOK, TRIANGLE, EACH_ONE, pinned)
 
@@ -293,7 +298,8 @@ class JudgeTest(unittest.TestCase):
     def test_fractions(self):
         told = roof(BOOK, QUESTION, MOVING, None)
         first, second = told[1]
-        for t in ((2, 2), (1.0, 1), (True, 1), (1, True), [1, 1], 1, (1,), (1, 1, 1), (-1, -1), (1, 0), (1, 2), (0, 1), None):
+        for t in ((2, 2), (1.0, 1), (True, 1), (1, True), [1, 1], 1, (1,), (1, 1, 1), (-1, -1), (1, 0), (1, 2), (0, 1),
+                None):
             thing = "roof", (first, (t, *second[1:])), told[2]
             self.assertIs(shows_roof(BOOK, QUESTION, MOVING, None, thing), False, t)
         for t in ((0, 2), (False, 1), (0, True), (1, 2), (0,), (0, 0), (0, -1), None):
@@ -304,9 +310,11 @@ class JudgeTest(unittest.TestCase):
         told = roof(BOOK, QUESTION, MOVING, None)
         first, second = told[1]
         doubled = tuple((way, 2 * amount) for way, amount in told[2][1])
-        self.assertIs(shows_roof(BOOK, QUESTION, MOVING, None, ("roof", (first, ((2, 2), *second[1:])), (told[2][0], doubled, told[2][2]))), False)
+        self.assertIs(shows_roof(BOOK, QUESTION, MOVING, None, ("roof", (first, ((2, 2), *second[1:])),
+            (told[2][0], doubled, told[2][2]))), False)
         doubled = tuple((way, 2 * amount) for way, amount in told[2][0])
-        self.assertIs(shows_roof(BOOK, QUESTION, MOVING, None, ("roof", (((0, 2), *first[1:]), second), (doubled, *told[2][1:]))), False)
+        self.assertIs(shows_roof(BOOK, QUESTION, MOVING, None, ("roof", (((0, 2), *first[1:]), second),
+            (doubled, *told[2][1:]))), False)
 
     def test_a_stretch_parted_with_amounts_for_both_parts(self):
         told = roof(BOOK, QUESTION, MOVING, None)
@@ -357,7 +365,8 @@ class JudgeTest(unittest.TestCase):
                 stretch = told[1][0][:at] + (thing,) + told[1][0][at + 1:]
                 right = at in (1, 2) and thing == 1 and thing is not True
                 self.assertIs(
-                    shows_roof(BOOK, QUESTION, MOVING, None, ("roof", (stretch, told[1][1]), told[2])), right, shown(thing)
+                    shows_roof(BOOK, QUESTION, MOVING, None, ("roof", (stretch, told[1][1]), told[2])), right,
+                    shown(thing)
                 )
 
     def test_too_many(self):
@@ -397,12 +406,14 @@ class ReadTest(unittest.TestCase):
 
     def test_a_price_of_0(self):
         read = Roof((((0, 1), 0, 0, ()),))
-        self.assertEqual((len(read), read.price_at((7, 3)), read.cut_at((7, 3)), read.front()), (1, (0, 1), (), [(0, 0)]))
+        self.assertEqual((len(read), read.price_at((7, 3)), read.cut_at((7, 3)), read.front()),
+            (1, (0, 1), (), [(0, 0)]))
 
     def test_no_price(self):
         read = Roof(self.STRETCHES)
         wrong = [thing for thing in ANY_OBJECTS if thing != (0, 10 ** 30)]
-        for t in wrong + [(0, 0), (-1, 2), (1, -2), (True, 1), (1, True), (1, 2, 3), [1, 2], (1.5, 1), ("1", 1), (1, None)]:
+        for t in wrong + [(0, 0), (-1, 2), (1, -2), (True, 1), (1, True), (1, 2, 3), [1, 2], (1.5, 1), ("1", 1),
+                (1, None)]:
             self.assertEqual(raised(read.price_at, t), (NoPrice, {}), shown(t))
             self.assertEqual(raised(read.cut_at, t), (NoPrice, {}), shown(t))
 

@@ -1,5 +1,4 @@
 import copy
-import itertools
 import unittest
 from fractions import Fraction
 
@@ -149,7 +148,8 @@ class AllWorldsTest(unittest.TestCase):
             for pair in pairs_of(chances):
                 for holding in (True, False):
                     given = sum((weight for _, weight, holds in worlds if holds is holding), Fraction(0))
-                    both = sum((weight for rows, weight, holds in worlds if holds is holding and pair in rows), Fraction(0))
+                    both = sum((weight for rows, weight, holds in worlds if holds is holding and pair in rows),
+                        Fraction(0))
                     told = chance_given(book, question, chances, pair, holding)
                     self.assertEqual(told, plain(both / given) if given else None)
                     kinds.add((told if told in (None, (0, 1), (1, 1)) else "part", holding))
@@ -245,7 +245,8 @@ class ErrorsTest(unittest.TestCase):
             self.assertEqual(raised(answer_chances, book, thing, chances), (NoQuestion, {}))
 
     def test_no_row(self):
-        wrong = [("b", (1, 5)), ("a", (3,)), ("a", (True,)), ("a", 1), ["a", (1,)], ("a", [1]), ("a", (1,), 1), ("a",), ("z", (1,))]
+        wrong = [("b", (1, 5)), ("a", (3,)), ("a", (True,)), ("a", 1), ["a", (1,)], ("a", [1]), ("a", (1,), 1), ("a",),
+            ("z", (1,))]
         for thing in wrong + [thing for thing in ANY_OBJECTS if thing != ("a", (1,))]:
             for function in (growth, lambda *case: chance_given(*case, True), lambda *case: chance_given(*case, False)):
                 self.assertEqual(raised(function, BOOK, QUESTION, CHANCES, thing), (NoRow, {}), shown(thing))
@@ -258,7 +259,8 @@ class ErrorsTest(unittest.TestCase):
 
     def test_what_is_seen(self):
         one, other = ("a", (1,)), ("a", (2,))
-        for there, lost in (((other, one), ()), ((), (other, one)), ((one, one), ()), ((one,), (one,)), ((one, other), (other,)),
+        for there, lost in (((other, one), ()), ((), (other, one)), ((one, one), ()), ((one,), (one,)),
+                ((one, other), (other,)),
                             ([one], ()), ((), [one]), ({one: 1}, ())):
             self.assertEqual(raised(seen, BOOK, QUESTION, CHANCES, there, lost), (NoRow, {}))
         self.assertEqual(seen(BOOK, QUESTION, CHANCES, (one, other), ()), (1, 1))
