@@ -9,8 +9,8 @@ from answercut.questions import need_closed
 from answercut.shares import lowest
 
 MOST_MOVING = 10 ** 13
-# A sum of a or b of all rows of six tables is at most 360 * 10 ** 13. So two stretches begin at fractions of which the
-# integers below are at most that, and there is no other beginning between one and what is 1 / FINE behind it.
+# Where a stretch begins two cuts cost the same: this is a fraction of two differences of their sums, of which each is at
+# most 360 * 10 ** 13, for all rows of six tables. So all beginnings are less than FINE, and more than 1 / FINE apart.
 FINE = 10 ** 32
 
 
