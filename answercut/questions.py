@@ -62,6 +62,11 @@ def is_price(thing):
 
 def need_prices(question, prices):
     """Raise NoPrice unless any object prices is a dict of prices of the question."""
+    need_worths(question, prices, is_price)
+
+
+def need_worths(question, prices, is_right):
+    """Raise NoPrice unless any object prices is a dict from the question's tables to None or what is right."""
     atoms = question[1]
     # As the tables are different, a dict of as many keys with each of them has no other key.
     if not isinstance(prices, dict) or len(prices) != len(atoms):
@@ -69,7 +74,7 @@ def need_prices(question, prices):
     for table, _ in atoms:
         if table not in prices:
             raise NoPrice("a table has neither a price nor None")
-        if prices[table] is not None and not is_price(prices[table]):
+        if prices[table] is not None and not is_right(prices[table]):
             raise NoPrice("this is no price")
 
 

@@ -5,25 +5,18 @@ from answercut.books import is_integer
 from answercut.errors import NoPrice
 from answercut.lines import loose_tables, ruling_by
 from answercut.nets import as_keys, courses_of, cut_of_courses, is_cut, is_standing, lines_of, need_loose
-from answercut.questions import need_closed
+from answercut.questions import need_closed, need_worths
 from answercut.shares import lowest
 
 MOST_MOVING = 10 ** 13
-# Where a stretch begins two cuts cost the same: this is a fraction of two differences of their sums, of which each is at
+# Where a stretch begins two cuts cost the same: it is a fraction of two differences of their sums, of which each is at
 # most 360 * 10 ** 13, for all rows of six tables. So all beginnings are less than FINE, and more than 1 / FINE apart.
 FINE = 10 ** 32
 
 
 def need_moving(question, moving):
     """Raise NoPrice unless any object moving is a dict of moving prices of the question."""
-    atoms = question[1]
-    if not isinstance(moving, dict) or len(moving) != len(atoms):
-        raise NoPrice("these are no moving prices of the question's tables")
-    for table, _ in atoms:
-        if table not in moving:
-            raise NoPrice("a table has neither a moving price nor None")
-        if moving[table] is not None and not _is_moving(moving[table]):
-            raise NoPrice("this is no moving price")
+    need_worths(question, moving, _is_moving)
 
 
 def _is_moving(thing):
