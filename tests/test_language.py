@@ -232,6 +232,58 @@ class LanguageTest(unittest.TestCase):
                     wrong.append((path, node, "L23"))
         self.none(wrong)
 
+    def test_no_name_is_a_method_and_an_attribute_of_a_class(self):
+        for path, kind in nodes(ast.ClassDef):
+            methods = {node.name for node in kind.body if isinstance(node, ast.FunctionDef)}
+            stored = {node.attr for node in ast.walk(kind) if isinstance(node, ast.Attribute)
+                      and isinstance(node.ctx, ast.Store)}
+            self.assertEqual(methods & stored, set(), f"{path.name}:{kind.name} L18")
+
+    def test_len_and_eq_have_plain_forms(self):
+        found = [(path, node) for path, node in nodes(ast.FunctionDef) if node.name in ("__len__", "__eq__")]
+        for path, node in found:
+            last = node.body[-1]
+            self.assertEqual(len(node.body), 1, f"{path.name}:{node.lineno} L28")
+            self.assertIsInstance(last, ast.Return)
+            if node.name == "__len__":
+                self.assertTrue(isinstance(last.value, ast.Call) and called(last.value) == "len", f"{path.name} L28")
+            else:
+                self.assertIsInstance(last.value, ast.BoolOp)
+                self.assertEqual(called(last.value.values[0]), "isinstance")
+
+    def test_module_level_tables_are_read_and_copied_alone(self):
+        wrong = []
+        tables = {
+            target.id for _, tree in trees() for node in tree.body if isinstance(node, ast.Assign)
+            for target in node.targets if isinstance(node.value, (ast.Dict, ast.List))
+        }
+        for path, tree in trees():
+            above = {child: node for node in ast.walk(tree) for child in ast.iter_child_nodes(node)}
+            for node in ast.walk(tree):
+                if not (isinstance(node, ast.Name) and node.id in tables and isinstance(node.ctx, ast.Load)):
+                    continue
+                around = above[node]
+                read = isinstance(around, ast.Subscript) and isinstance(around.ctx, ast.Load) and around.value is node
+                asked = isinstance(around, ast.Compare) and node in around.comparators
+                copied = isinstance(around, ast.Call) and called(around) in {"dict", "list", "len"}
+                if not (read or asked or copied):
+                    wrong.append((path, node, f"L15 {node.id}"))
+        self.none(wrong)
+        values = [(path, node.value) for path, tree in trees() for node in tree.body if isinstance(node, ast.Assign)]
+        nested = [(path, part) for path, value in values for part in ast.walk(value) if part is not value]
+        self.none([(path, node, "L15") for path, node in nested if isinstance(node, (ast.Dict, ast.List, ast.Set))])
+
+    def test_lambdas_and_keywords_of_builtins(self):
+        allowed = {"sorted": {"key", "reverse"}, "min": {"key", "default"}, "max": {"key", "default"}, "sum": {"start"},
+                   "enumerate": {"start"}, "zip": {"strict"}}
+        wrong = []
+        for path, node in nodes(ast.Call):
+            if called(node) in BUILTINS and {word.arg for word in node.keywords} - allowed.get(called(node), set()):
+                wrong.append((path, node, "L22"))
+        keys = {word.value for _, node in nodes(ast.Call) for word in node.keywords}
+        wrong += [(path, node, "L4 lambda") for path, node in nodes(ast.Lambda) if node not in keys]
+        self.none(wrong)
+
     def test_comments_and_docstrings(self):
         for path, tree in trees():
             self.assertIsNotNone(ast.get_docstring(tree), path.name)
