@@ -526,15 +526,17 @@ class JudgeTest(unittest.TestCase):
                 self.assertFalse(self.agree(case, ((a,), steps, (((0,), 1),), some)), steps)
         for steps in ((((a,), (), ()),), (((), (b,), ()),)):
             self.assertIs(shows_order(*case, ((a,), steps, (((0,), 1),), papers)), False)
-        case = self.small((1, 1, 1), a=(0, 1), b=(0, 1), c=(0, 1))
-        a, b, c = [[(table, (k,)) for k in (0, 1)] for table in "abc"]
-        first, steps = tuple(a), [((a[0],), (b[0],), ()), ((a[1],), (b[1],), ()), (tuple(b), tuple(c), (0, 1))]
-        amounts = (((0,), 1), ((1,), 1))
-        for ahead in ((1, 0), (0, 1, 1), (0, 2), (0, 3), (-1, 0), (-3, -2), (0, True), [0, 1]):
-            other = tuple(steps[:2] + [(*steps[2][:2], ahead)])
-            some = () if max(ahead) > 2 or isinstance(ahead, list) else papers_of(case, first, other)
-            self.assertFalse(self.agree(case, (first, other, amounts, some)), ahead)
-            self.assertIs(surveys.is_order(*case, first, other), False, ahead)
+
+    def test_the_numbers_of_the_steps_ahead_rise(self):
+        case = net("amb", [(), (), (0, 1)]), ((), net_atoms("amb", "xy")), net_prices("amb"), None
+        order = orders(*case)[0]
+        first, steps = order.plain()
+        amounts = order_papers(*case, order)[0]
+        self.assertEqual(steps[2][2], (0, 1))
+        for ahead in ((0, 1), (1, 0), (0, 1, 1), (0, 0, 1), (0, 1, 2), (0, 2), (-3, -2), (0, True), (False, 1), [0, 1]):
+            other = steps[:2] + ((*steps[2][:2], ahead),)
+            papers = papers_of(case, first, other)
+            self.assertIs(self.agree(case, (first, other, amounts, papers or ())), references.same(ahead, (0, 1)), ahead)
 
     def test_rows_of_two_pieces_and_unequal_prices(self):
         book = {"a": (1, ((1,),)), "b": (1, ((1,),)), "c": (1, ((1,),)), "d": (1, ((1,),))}
